@@ -186,6 +186,15 @@ func TestTreesOfSharedMemory(t *testing.T) {
 	checkHash(t, "the memory", all, mixedBytes(200, 20))
 }
 
+// nilLists returns three lists of n elements: all of them nil, all empty, and both in turns.
+func nilLists(n int) (nils, empty, turns [][]byte) {
+	for i := range n {
+		nils, empty = append(nils, nil), append(empty, []byte{})
+		turns = append(turns, [][]byte{{}, nil}[i%2])
+	}
+	return nils, empty, turns
+}
+
 func TestTreesOfNil(t *testing.T) {
 	checkHash(t, "LeafHash(nil)", impl.LeafHash(nil), impl.LeafHash([]byte{}))
 	for _, x := range [][]byte{nil, []byte("abc"), goHash(0)} {
@@ -194,13 +203,7 @@ func TestTreesOfNil(t *testing.T) {
 	}
 	checkHash(t, "TreeRoot(nil)", impl.TreeRoot(nil), impl.TreeRoot([][]byte{}))
 	for n := range 20 {
-		nils, empty, turns := make([][]byte, n), make([][]byte, n), make([][]byte, n)
-		for i := range n {
-			empty[i] = []byte{}
-			if i%2 == 0 {
-				turns[i] = []byte{}
-			}
-		}
+		nils, empty, turns := nilLists(n)
 		checkHash(t, fmt.Sprintf("TreeRoot of %d nil", n), impl.TreeRoot(nils), impl.TreeRoot(empty))
 		checkHash(t, fmt.Sprintf("TreeRoot of %d nil and empty", n), impl.TreeRoot(turns), impl.TreeRoot(empty))
 		checkSame(t, "nil and empty", nils, empty, true)
