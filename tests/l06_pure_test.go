@@ -89,6 +89,38 @@ func checkListsPure(t *testing.T, what string, f func(args [][][]byte) []byte, a
 	}
 }
 
+// overwriteBytes changes a byte string and its spare capacity.
+func overwriteBytes(b []byte) {
+	all := b[:cap(b)]
+	for i := range all {
+		all[i] = scribble
+	}
+}
+
+// overwriteList changes a list, its elements, and the capacity behind both.
+func overwriteList(l [][]byte) {
+	for _, x := range l {
+		overwriteBytes(x)
+	}
+	all := l[:cap(l)]
+	for i := range all {
+		all[i] = []byte{scribble}
+	}
+}
+
+// checkElementsApart overwrites the elements of one list one by one and reports those that share memory.
+func checkElementsApart(t *testing.T, what string, l [][]byte) {
+	t.Helper()
+	for i, x := range l {
+		want := deepClone(l)
+		want[i] = filled(len(x), scribble)
+		overwriteBytes(x)
+		if !slices.EqualFunc(l, want, bytes.Equal) {
+			t.Errorf("%s: a change of element %d changed another one", what, i)
+		}
+	}
+}
+
 func TestLeafAndNodePure(t *testing.T) {
 	for n := range 131 {
 		a, b := mixedBytes(n, 15), mixedBytes(130-n, 16)

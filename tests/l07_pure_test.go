@@ -37,35 +37,8 @@ func (h heldStack) check(t *testing.T, what string) {
 
 // overwriteStack changes everything that belongs to a result.
 func overwriteStack(s impl.Stack) {
-	for i := range s.Hashes {
-		overwriteBytes(s.Hashes[i])
-	}
-	all := s.Hashes[:cap(s.Hashes)]
-	for i := range all {
-		all[i] = []byte{scribble}
-	}
+	overwriteList(s.Hashes)
 	overwrite(s.Heights)
-}
-
-// overwriteBytes changes a byte string and its spare capacity.
-func overwriteBytes(b []byte) {
-	all := b[:cap(b)]
-	for i := range all {
-		all[i] = scribble
-	}
-}
-
-// checkApartInside reports hashes of one stack that share memory.
-func checkApartInside(t *testing.T, what string, s impl.Stack) {
-	t.Helper()
-	for i, h := range s.Hashes {
-		before := stackClone(s)
-		overwriteBytes(h)
-		before.Hashes[i] = filled(len(h), scribble)
-		if !sameStack(s, before) {
-			t.Errorf("%s: a change of hash %d changed another one", what, i)
-		}
-	}
 }
 
 // oddStacks are stacks that are not valid.
@@ -122,7 +95,7 @@ func TestStackPushPure(t *testing.T) {
 			if !sameStack(again, want) {
 				t.Errorf("%s: a change of the arguments changed the result", what)
 			}
-			checkApartInside(t, what, again)
+			checkElementsApart(t, what, again.Hashes)
 		}
 	}
 }
@@ -172,7 +145,7 @@ func TestStackOfPure(t *testing.T) {
 				overwriteBytes(x)
 			}
 			checkStack(t, what+", its argument overwritten", again, ok, want)
-			checkApartInside(t, what, again)
+			checkElementsApart(t, what, again.Hashes)
 		}
 	}
 }
@@ -212,7 +185,7 @@ func TestStacksOfSharedMemory(t *testing.T) {
 				want := writtenPush(stackClone(s), leaf)
 				got, ok := impl.StackPush(s, leaf)
 				checkStack(t, fmt.Sprintf("%s of %d leaves", what, n), got, ok, stackClone(want))
-				checkApartInside(t, what, got)
+				checkElementsApart(t, what, got.Hashes)
 				overwriteStack(got)
 				checkHash(t, what+", the memory", all, before)
 			}
