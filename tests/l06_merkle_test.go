@@ -254,18 +254,26 @@ func TestTreeRoot(t *testing.T) {
 	}
 }
 
-// All lists of up to six leaves that are empty, a byte or a hash.
-func TestTreeRootOfShortLists(t *testing.T) {
-	lists := [][][]byte{nil}
-	for n := 0; n <= 6; n++ {
+// shortLists returns all lists of up to most elements that are among parts.
+func shortLists(most int, parts ...[]byte) [][][]byte {
+	all := [][][]byte{nil}
+	lists := all
+	for range most {
 		var longer [][][]byte
 		for _, l := range lists {
-			checkHash(t, fmt.Sprintf("TreeRoot(%v)", l), impl.TreeRoot(l), goRoot(l))
-			for _, x := range [][]byte{nil, {0}, goHash(0)} {
+			for _, x := range parts {
 				longer = append(longer, append(slices.Clone(l), x))
 			}
 		}
-		lists = longer
+		all, lists = append(all, longer...), longer
+	}
+	return all
+}
+
+// All lists of up to six leaves that are empty, a byte or a hash.
+func TestTreeRootOfShortLists(t *testing.T) {
+	for _, l := range shortLists(6, nil, []byte{0}, goHash(0)) {
+		checkHash(t, fmt.Sprintf("TreeRoot(%v)", l), impl.TreeRoot(l), goRoot(l))
 	}
 }
 

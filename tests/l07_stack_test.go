@@ -399,17 +399,9 @@ func TestStackOf(t *testing.T) {
 
 // All lists of up to six leaves that are nil, empty, a byte or a hash.
 func TestStackOfShortLists(t *testing.T) {
-	lists := [][][]byte{nil}
-	for n := 0; n <= 6; n++ {
-		var longer [][][]byte
-		for _, l := range lists {
-			got, ok := impl.StackOf(l)
-			checkStack(t, fmt.Sprintf("StackOf(%v)", l), got, ok, writtenOf(l))
-			for _, x := range [][]byte{nil, {}, {0}, goHash(0)} {
-				longer = append(longer, append(slices.Clone(l), x))
-			}
-		}
-		lists = longer
+	for _, l := range shortLists(6, nil, []byte{}, []byte{0}, goHash(0)) {
+		got, ok := impl.StackOf(l)
+		checkStack(t, fmt.Sprintf("StackOf(%v)", l), got, ok, writtenOf(l))
 	}
 }
 

@@ -11,6 +11,16 @@ import (
 
 // P7 for chapter 9: every leaf has an inclusion proof.
 
+// checkHashes reports the elements of a proof that are no hashes.
+func checkHashes(t *testing.T, what string, proof [][]byte) {
+	t.Helper()
+	for at, r := range proof {
+		if len(r) != 32 {
+			t.Errorf("%s: element %d has %d bytes", what, at, len(r))
+		}
+	}
+}
+
 // checkProof checks that leaf i of l has a proof, which leads from the leaf to root.
 func checkProof(t *testing.T, what string, l [][]byte, i int, root []byte) [][]byte {
 	t.Helper()
@@ -20,11 +30,7 @@ func checkProof(t *testing.T, what string, l [][]byte, i int, root []byte) [][]b
 	if !ok || len(path) != impl.PathLen(i, n) {
 		t.Errorf("%s: PathOf: %v with %d elements, but PathLen is %d", what, ok, len(path), impl.PathLen(i, n))
 	}
-	for at, r := range path {
-		if len(r) != 32 {
-			t.Errorf("%s: element %d has %d bytes", what, at, len(r))
-		}
-	}
+	checkHashes(t, what, path)
 	got, ok := impl.PathRoot(impl.LeafHash(l[i]), i, n, path)
 	if !ok || !bytes.Equal(got, root) {
 		t.Errorf("%s: PathRoot: %x, %v instead of %x", what, got, ok, root)

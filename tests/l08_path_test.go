@@ -268,19 +268,11 @@ func TestPathOf(t *testing.T) {
 
 // All lists of up to four leaves that are nil, empty, a byte or a hash.
 func TestPathOfShortLists(t *testing.T) {
-	lists := [][][]byte{nil}
-	for n := 0; n <= 4; n++ {
-		var longer [][][]byte
-		for _, l := range lists {
-			for i := range l {
-				got, ok := impl.PathOf(l, i)
-				checkPath(t, fmt.Sprintf("PathOf(%v, %d)", l, i), got, ok, writtenPath(l, i))
-			}
-			for _, x := range [][]byte{nil, {}, {0}, goHash(0)} {
-				longer = append(longer, append(slices.Clone(l), x))
-			}
+	for _, l := range shortLists(4, nil, []byte{}, []byte{0}, goHash(0)) {
+		for i := range l {
+			got, ok := impl.PathOf(l, i)
+			checkPath(t, fmt.Sprintf("PathOf(%v, %d)", l, i), got, ok, writtenPath(l, i))
 		}
-		lists = longer
 	}
 }
 
@@ -461,26 +453,36 @@ func TestPathRootOfOtherLengths(t *testing.T) {
 	checkRefused(t, "the last path for the first leaf", []byte{1}, 0, 9, hashesFor(1))
 }
 
+// noHashesIn returns lists as long as a list of hashes in which some element, or each, is none.
+func noHashesIn(l [][]byte) [][][]byte {
+	var lists [][][]byte
+	for at := range l {
+		for _, r := range notHashes() {
+			lists = append(lists, slices.Replace(slices.Clone(l), at, at+1, r))
+		}
+	}
+	if len(l) > 0 {
+		lists = append(lists, make([][]byte, len(l)))
+	}
+	if len(l) > 1 {
+		moved := slices.Clone(l) // as many bytes as before, cut at another place
+		moved[0], moved[1] = l[0][:31], slices.Concat(l[0][31:], l[1])
+		lists = append(lists, moved)
+	}
+	return lists
+}
+
 // An element that is no hash is refused at every place of the path.
 func TestPathRootOfNoHashes(t *testing.T) {
 	counts := append([]int{100, 129, mostLeaves - 1, mostLeaves}, leafCounts...)
 	for _, n := range counts {
 		for _, i := range someLeaves(n) {
 			path := hashesFor(writtenLen(i, n))
-			for at := range path {
-				for _, r := range notHashes() {
-					changed := slices.Replace(slices.Clone(path), at, at+1, r)
-					checkRefused(t, fmt.Sprintf("element %d of %d bytes", at, len(r)), []byte{1}, i, n, changed)
-				}
+			for _, changed := range noHashesIn(path) {
+				checkRefused(t, "an element that is no hash", []byte{1}, i, n, changed)
 			}
 			if len(path) > 0 {
-				checkRefused(t, "elements nil", []byte{1}, i, n, make([][]byte, len(path)))
 				checkRefused(t, "one element with all bytes", []byte{1}, i, n, [][]byte{slices.Concat(path...)[1:]})
-			}
-			if len(path) > 1 {
-				moved := slices.Clone(path) // as many bytes as before, cut at another place
-				moved[0], moved[1] = path[0][:31], slices.Concat(path[0][31:], path[1])
-				checkRefused(t, "a byte moved", []byte{1}, i, n, moved)
 			}
 		}
 	}

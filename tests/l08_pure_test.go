@@ -13,17 +13,16 @@ import (
 // (the outer slice of a list or a path, its elements, and the capacity behind
 // each), results are new memory, and no function panics.
 
-// checkPathPure calls PathOf twice with a list that can be watched.
-func checkPathPure(t *testing.T, what string, l [][]byte, i int) {
+// checkProofPure calls f, which returns a proof, twice with a list that can be watched.
+func checkProofPure(t *testing.T, what string, l [][]byte, f func(l [][]byte) ([][]byte, bool)) {
 	t.Helper()
-	what = fmt.Sprintf("%s, PathOf %d leaves and %d", what, len(l), i)
 	held := holdList(l)
-	first, ok := impl.PathOf(held.given, i)
+	first, ok := f(held.given)
 	want := deepClone(first)
 	held.check(t, what)
 	overwriteList(first)
 	held.check(t, what+", its result overwritten")
-	again, okAgain := impl.PathOf(held.given, i)
+	again, okAgain := f(held.given)
 	if ok != okAgain || !sameList(again, want) {
 		t.Errorf("%s: the second call returns %x, %v, the first %x, %v", what, again, okAgain, want, ok)
 	}
@@ -38,18 +37,19 @@ func TestPathOfPure(t *testing.T) {
 	for _, n := range leafCounts {
 		for name, l := range someLists(n) {
 			for _, i := range append(someLeaves(n), -1, n, n+1) {
-				checkPathPure(t, name, l, i)
+				what := fmt.Sprintf("%s, PathOf %d leaves and %d", name, n, i)
+				checkProofPure(t, what, l, func(l [][]byte) ([][]byte, bool) { return impl.PathOf(l, i) })
 			}
 		}
 	}
 }
 
-// someProofs returns arguments of PathRoot: a path of leaf i of n, and paths that are none.
-func someProofs(i, n int) [][][]byte {
-	path := hashesFor(writtenLen(i, n))
+// someProofs returns a list of n hashes, which is a proof of that length, and lists that are none.
+func someProofs(n int) [][][]byte {
+	proof := hashesFor(n)
 	return [][][]byte{
-		path, append(slices.Clone(path), goHash(0)), append(slices.Clone(path), nil), path[:len(path)/2], nil,
-		make([][]byte, len(path)), slices.Repeat([][]byte{filled(33, 3)}, len(path)), slices.Repeat([][]byte{{}}, len(path)),
+		proof, append(slices.Clone(proof), goHash(0)), append(slices.Clone(proof), nil), proof[:n/2], nil,
+		make([][]byte, n), slices.Repeat([][]byte{filled(33, 3)}, n), slices.Repeat([][]byte{{}}, n),
 	}
 }
 
@@ -78,7 +78,7 @@ func checkRootPure(t *testing.T, h []byte, i, n int, path [][]byte) {
 func TestPathRootPure(t *testing.T) {
 	for _, n := range append([]int{-1, mostLeaves, mostLeaves + 1}, leafCounts...) {
 		for _, i := range append(someLeaves(n), -1, n) {
-			for _, path := range someProofs(i, n) {
+			for _, path := range someProofs(writtenLen(i, n)) {
 				for _, h := range [][]byte{goHash(9), filled(31, 9), filled(33, 9), nil} {
 					checkRootPure(t, h, i, n, path)
 				}
@@ -106,7 +106,7 @@ func TestPathRootOfOneLeafIsNew(t *testing.T) {
 func TestPathOkPure(t *testing.T) {
 	for _, n := range append([]int{-1, mostLeaves, mostLeaves + 1}, leafCounts...) {
 		for _, i := range append(someLeaves(n), -1, n) {
-			for at, path := range someProofs(i, n) {
+			for at, path := range someProofs(writtenLen(i, n)) {
 				x, root := mixedBytes(i%50+60, n), goHash(1)
 				if at == 0 && n > 0 && n <= mostLeaves && i >= 0 && i < n {
 					root = writtenPathRoot(goHash(0, x), i, n, path)
@@ -125,22 +125,31 @@ func TestPathOkPure(t *testing.T) {
 	}
 }
 
+// checkListsApart overwrites n lists one by one and reports those that share memory.
+func checkListsApart(t *testing.T, what string, n int, list func(i int) [][]byte) {
+	t.Helper()
+	var lists, copies [][][]byte
+	for i := range n {
+		l := list(i)
+		lists, copies = append(lists, l), append(copies, deepClone(l))
+	}
+	for i, l := range lists {
+		overwriteList(l)
+		for j := i + 1; j < n; j++ {
+			if !sameList(lists[j], copies[j]) {
+				t.Errorf("%s: a change of list %d changed list %d", what, i, j)
+			}
+		}
+	}
+}
+
 // The path of a leaf and those of its neighbors have equal elements, but none in common.
 func TestPathsShareNothing(t *testing.T) {
 	for name, l := range someLists(17) {
-		var paths, copies [][][]byte
-		for i := range 2 * len(l) {
+		checkListsApart(t, name, 2*len(l), func(i int) [][]byte {
 			path, _ := impl.PathOf(l, i%len(l))
-			paths, copies = append(paths, path), append(copies, deepClone(path))
-		}
-		for i, path := range paths {
-			overwriteList(path)
-			for j := i + 1; j < len(paths); j++ {
-				if !sameList(paths[j], copies[j]) {
-					t.Errorf("%s: a change of path %d changed path %d", name, i, j)
-				}
-			}
-		}
+			return path
+		})
 	}
 }
 
