@@ -1,0 +1,425 @@
+package tests
+
+import (
+	"bytes"
+	"encoding/binary"
+	"fmt"
+	"math"
+	"slices"
+	"testing"
+
+	"loop.example/g00790/impl"
+)
+
+// P12 for chapter 12: every function returns what the chapter specifies.
+
+// voteNumbers and voteHashes are the fields of a vote; of each a test can change one alone.
+var voteNumbers = map[string]func(v *impl.Vote) *int{
+	"View":   func(v *impl.Vote) *int { return &v.View },
+	"Height": func(v *impl.Vote) *int { return &v.Height },
+	"Who":    func(v *impl.Vote) *int { return &v.Who },
+}
+
+var voteHashes = map[string]func(v *impl.Vote) *[]byte{
+	"Block": func(v *impl.Vote) *[]byte { return &v.Block },
+	"Tag":   func(v *impl.Vote) *[]byte { return &v.Tag },
+}
+
+// edgeNumbers are the numbers on both sides of every length of an encoding.
+func edgeNumbers() []int {
+	list := []int{0, 1}
+	for shift := 7; shift < 60; shift += 7 {
+		list = append(list, 1<<shift-1, 1<<shift)
+	}
+	return append(list, impl.MaxNum-1, impl.MaxNum)
+}
+
+var notNumbers = []int{math.MinInt, math.MinInt + 1, -1 << 32, -129, -128, -2, -1, impl.MaxNum + 1, impl.MaxNum + 2, 1 << 61, 1 << 62, math.MaxInt - 1, math.MaxInt}
+
+// notSigners are indexes that no validator of n has.
+func notSigners(n int) []int {
+	return append([]int{n, n + 1, n + 7, 127, 128, 255, 256, 1<<32 + n, math.MinInt + n, impl.MaxNum - 1, impl.MaxNum}, notNumbers...)
+}
+
+// limitsFor returns valid limits of n validators.
+func limitsFor(n int) impl.Limits {
+	return impl.Limits{N: n, Tx: 10, Txs: 4, Frame: 4000, Heads: 5}
+}
+
+// wrongLimits have one field off.
+func wrongLimits() []impl.Limits {
+	list := []impl.Limits{{}}
+	for _, f := range limitFields {
+		for _, n := range []int{math.MinInt, -1, f.least - 1, f.most + 1, math.MaxInt} {
+			list = append(list, f.with(limitsFor(4), n))
+		}
+	}
+	return list
+}
+
+// someVotes are valid votes of n validators: each edge of View meets each one of
+// Height, and every validator votes.
+func someVotes(n int) []impl.Vote {
+	var list []impl.Vote
+	hashes := [][]byte{filled(32, 0), filled(32, 255), mixedBytes(32, 12), goHash(1), goHash(2), filled(32, 128)}
+	for _, view := range edgeNumbers() {
+		for _, height := range edgeNumbers() {
+			i := len(list)
+			list = append(list, impl.Vote{View: view, Height: height, Block: hashes[i%6], Who: i % n, Tag: hashes[i/6%6]})
+		}
+	}
+	return list
+}
+
+func oneVote() impl.Vote {
+	return impl.Vote{View: 300, Height: 2, Block: goHash(7), Who: 3, Tag: goHash(9)}
+}
+
+func cloneVote(v impl.Vote) impl.Vote {
+	v.Block, v.Tag = bytes.Clone(v.Block), bytes.Clone(v.Tag)
+	return v
+}
+
+func writtenVoteOk(l impl.Limits, v impl.Vote) bool {
+	numbers := v.View >= 0 && v.View <= 1152921504606846975 && v.Height >= 0 && v.Height <= 1152921504606846975
+	return writtenLimitsOk(l) && numbers && len(v.Block) == 32 && v.Who >= 0 && v.Who <= l.N-1 && len(v.Tag) == 32
+}
+
+func writtenVoteSame(a, b impl.Vote) bool {
+	numbers := a.View == b.View && a.Height == b.Height && a.Who == b.Who
+	return numbers && bytes.Equal(a.Block, b.Block) && bytes.Equal(a.Tag, b.Tag)
+}
+
+// varint is the encoding of a number by encoding/binary, which also encodes what is no number.
+func varint(n int) []byte { return binary.AppendUvarint(nil, uint64(n)) }
+
+// rawVote puts the parts of a vote together, valid or not.
+func rawVote(v impl.Vote) []byte {
+	return slices.Concat(varint(v.View), varint(v.Height), v.Block, varint(v.Who), v.Tag)
+}
+
+// writtenGetVote names the parts one by one, as the chapter does.
+func writtenGetVote(l impl.Limits, b []byte, at int) (impl.Vote, int, int) {
+	none := impl.Vote{}
+	if !writtenLimitsOk(l) {
+		return none, 0, impl.ErValue
+	}
+	view, next, er := impl.GetVar(b, at)
+	if er != impl.ErOk {
+		return none, 0, er
+	}
+	height, next, er := impl.GetVar(b, next)
+	if er != impl.ErOk {
+		return none, 0, er
+	}
+	block, next, er := impl.GetRaw(b, next, 32)
+	if er != impl.ErOk {
+		return none, 0, er
+	}
+	who, next, er := impl.GetVar(b, next)
+	if er != impl.ErOk {
+		return none, 0, er
+	}
+	if who >= l.N {
+		return none, 0, impl.ErValue
+	}
+	tag, next, er := impl.GetRaw(b, next, 32)
+	if er != impl.ErOk {
+		return none, 0, er
+	}
+	return impl.Vote{View: view, Height: height, Block: block, Who: who, Tag: tag}, next, impl.ErOk
+}
+
+// checkVoteOk compares VoteOk and PutVote behind b with the chapter.
+func checkVoteOk(t *testing.T, l impl.Limits, b []byte, v impl.Vote, want bool) {
+	t.Helper()
+	if got := impl.VoteOk(l, v); got != want {
+		t.Errorf("VoteOk(%+v, %+v) = %v", l, v, got)
+	}
+	var bytesWanted []byte
+	if want {
+		bytesWanted = slices.Concat(b, rawVote(v))
+	}
+	got, ok := impl.PutVote(l, b, v)
+	checkPut(t, fmt.Sprintf("PutVote(%+v, %v, %+v)", l, b, v), got, ok, bytesWanted)
+}
+
+// checkVoteSame asks in both directions.
+func checkVoteSame(t *testing.T, a, b impl.Vote, want bool) {
+	t.Helper()
+	if impl.VoteSame(a, b) != want || impl.VoteSame(b, a) != want {
+		t.Errorf("VoteSame of %+v and %+v: %v and %v", a, b, impl.VoteSame(a, b), impl.VoteSame(b, a))
+	}
+}
+
+// checkVoteAt reports what GetVote returns if it is not as wanted.
+func checkVoteAt(t *testing.T, l impl.Limits, b []byte, at int, want impl.Vote, wantNext, wantEr int) {
+	t.Helper()
+	v, next, er := impl.GetVote(l, b, at)
+	if !writtenVoteSame(v, want) || next != wantNext || er != wantEr {
+		t.Errorf("GetVote(%+v, %v, %d): %+v, %d, %d instead of %+v, %d, %d", l, b, at, v, next, er, want, wantNext, wantEr)
+	}
+}
+
+func checkNoVoteAt(t *testing.T, l impl.Limits, b []byte, at int, code int) {
+	t.Helper()
+	checkVoteAt(t, l, b, at, impl.Vote{}, 0, code)
+}
+
+// checkVoteInput compares GetVote with the chapter.
+func checkVoteInput(t *testing.T, l impl.Limits, b []byte, at int) {
+	t.Helper()
+	v, next, er := writtenGetVote(l, b, at)
+	checkVoteAt(t, l, b, at, v, next, er)
+}
+
+func TestVoteKnown(t *testing.T) {
+	block, tag := filled(32, 7), filled(32, 9)
+	most := filled(8, 255, 15)
+	cases := []struct {
+		n    int
+		v    impl.Vote
+		want []byte
+	}{
+		{4, impl.Vote{View: 300, Height: 2, Block: block, Who: 3, Tag: tag}, slices.Concat([]byte{172, 2, 2}, block, []byte{3}, tag)},
+		{1, impl.Vote{View: 0, Height: 0, Block: block, Who: 0, Tag: tag}, slices.Concat([]byte{0, 0}, block, []byte{0}, tag)},
+		{10, impl.Vote{View: 1, Height: 127, Block: tag, Who: 9, Tag: block}, slices.Concat([]byte{1, 127}, tag, []byte{9}, block)},
+		{2, impl.Vote{View: 128, Height: 16384, Block: block, Who: 1, Tag: block}, slices.Concat([]byte{128, 1, 128, 128, 1}, block, []byte{1}, block)},
+		{10, impl.Vote{View: 1152921504606846975, Height: 1152921504606846975, Block: block, Who: 8, Tag: tag}, slices.Concat(most, most, block, []byte{8}, tag)},
+	}
+	for _, c := range cases {
+		l := limitsFor(c.n)
+		checkVoteOk(t, l, nil, c.v, true)
+		got, ok := impl.PutVote(l, nil, c.v)
+		checkPut(t, "a known vote", got, ok, c.want)
+		got, ok = impl.PutVote(l, []byte{128, 0}, c.v)
+		checkPut(t, "a known vote behind two bytes", got, ok, slices.Concat([]byte{128, 0}, c.want))
+		checkVoteAt(t, l, c.want, 0, c.v, len(c.want), impl.ErOk)
+		checkVoteAt(t, l, slices.Concat([]byte{128, 0}, c.want, []byte{128}), 2, c.v, 2+len(c.want), impl.ErOk)
+	}
+}
+
+func TestVotesOfEverySize(t *testing.T) {
+	for n := 1; n <= impl.MaxSigners; n++ {
+		for _, v := range someVotes(n) {
+			checkVoteOk(t, limitsFor(n), nil, v, true)
+			checkVoteOk(t, limitsFor(n), []byte{0, 255, 128}, v, true)
+			checkVoteInput(t, limitsFor(n), rawVote(v), 0)
+		}
+	}
+}
+
+// One number takes all its edges while the other parts stay valid.
+func TestVoteNumbers(t *testing.T) {
+	l := limitsFor(4)
+	for name, in := range voteNumbers {
+		v := oneVote()
+		for _, n := range edgeNumbers() {
+			*in(&v) = n
+			checkVoteOk(t, l, nil, v, name != "Who" || n < 4)
+			checkVoteOk(t, l, []byte{5}, v, name != "Who" || n < 4)
+			checkVoteInput(t, l, rawVote(v), 0)
+		}
+		for _, n := range append(notNumbers, extremes...) {
+			*in(&v) = n
+			checkVoteOk(t, l, nil, v, writtenVoteOk(l, v))
+			checkVoteOk(t, l, []byte{5}, v, writtenVoteOk(l, v))
+		}
+		for _, n := range notNumbers {
+			*in(&v) = n
+			checkVoteOk(t, l, nil, v, false)
+			checkNoVoteAt(t, l, rawVote(v), 0, impl.ErVar)
+		}
+	}
+}
+
+func TestVotesOfEverySigner(t *testing.T) {
+	for n := 1; n <= impl.MaxSigners; n++ {
+		l, v := limitsFor(n), oneVote()
+		for v.Who = -3; v.Who < n+200; v.Who++ {
+			ok := v.Who >= 0 && v.Who < n
+			checkVoteOk(t, l, nil, v, ok)
+			switch {
+			case ok:
+				checkVoteAt(t, l, rawVote(v), 0, v, len(rawVote(v)), impl.ErOk)
+			case v.Who >= n:
+				checkNoVoteAt(t, l, rawVote(v), 0, impl.ErValue)
+			}
+		}
+		for _, v.Who = range notSigners(n) {
+			checkVoteOk(t, l, nil, v, false)
+			checkVoteInput(t, l, rawVote(v), 0)
+		}
+	}
+}
+
+func TestVoteHashes(t *testing.T) {
+	l := limitsFor(4)
+	for _, in := range voteHashes {
+		v := oneVote()
+		for size := range 100 {
+			*in(&v) = mixedBytes(size, size)
+			checkVoteOk(t, l, nil, v, size == 32)
+			checkVoteOk(t, l, []byte{5}, v, size == 32)
+		}
+		for _, x := range notHashes() {
+			*in(&v) = x
+			checkVoteOk(t, l, nil, v, false)
+		}
+		for i := range 32 {
+			for _, c := range []byte{0, 1, 127, 128, 255} {
+				*in(&v) = filled(32, 3)
+				(*in(&v))[i] = c
+				checkVoteOk(t, l, nil, v, true)
+				checkVoteAt(t, l, rawVote(v), 0, v, len(rawVote(v)), impl.ErOk)
+			}
+		}
+	}
+}
+
+// Every part takes valid and other values together with those of all other parts.
+func TestVoteParts(t *testing.T) {
+	numbers := []int{math.MinInt, -1, 0, 5, impl.MaxNum, impl.MaxNum + 1, math.MaxInt}
+	hashes := [][]byte{nil, {}, goHash(1), filled(31, 1), filled(33, 1)}
+	for _, l := range []impl.Limits{limitsFor(1), limitsFor(4), {}} {
+		for _, view := range numbers {
+			for _, height := range numbers {
+				for _, who := range []int{-1, 0, l.N - 1, l.N} {
+					for _, block := range hashes {
+						for _, tag := range hashes {
+							v := impl.Vote{View: view, Height: height, Block: block, Who: who, Tag: tag}
+							checkVoteOk(t, l, nil, v, writtenVoteOk(l, v))
+						}
+					}
+				}
+			}
+		}
+	}
+}
+
+// Only the number of validators matters, but the other limits must be valid too.
+func TestVoteLimits(t *testing.T) {
+	v := impl.Vote{View: 300, Height: 2, Block: goHash(7), Tag: goHash(9)}
+	for _, base := range append(someLimits, limitsFor(4)) {
+		checkVoteOk(t, base, nil, v, true)
+		checkVoteAt(t, base, rawVote(v), 0, v, len(rawVote(v)), impl.ErOk)
+		for _, f := range limitFields {
+			for _, n := range f.edges() {
+				l := f.with(base, n)
+				checkVoteOk(t, l, nil, v, n >= f.least && n <= f.most)
+				checkVoteInput(t, l, rawVote(v), 0)
+			}
+		}
+	}
+	checkVoteOk(t, impl.Limits{}, nil, impl.Vote{}, false)
+	checkVoteOk(t, limitsFor(4), nil, impl.Vote{}, false)
+}
+
+// Limits that are not valid come before all that is wrong with the bytes or the offset.
+func TestVoteOfWrongLimits(t *testing.T) {
+	inputs := [][]byte{nil, {}, {0}, {128}, {128, 0}, rawVote(oneVote()), rawVote(oneVote())[:20], filled(80, 255), filled(80, 0)}
+	for _, l := range wrongLimits() {
+		for _, b := range inputs {
+			for _, at := range append(extremes, len(b)-1, len(b), len(b)+1) {
+				checkNoVoteAt(t, l, b, at, impl.ErValue)
+			}
+			checkVoteOk(t, l, b, oneVote(), false)
+			checkVoteOk(t, l, b, impl.Vote{}, false)
+		}
+	}
+}
+
+func TestVoteOffsets(t *testing.T) {
+	l := limitsFor(4)
+	for _, b := range [][]byte{nil, {}, {0}, rawVote(oneVote()), filled(200, 1), filled(200, 128)} {
+		for at := -5; at < len(b)+5; at++ {
+			checkVoteInput(t, l, b, at)
+		}
+		for _, at := range []int{math.MinInt, math.MinInt + 1, -256, -2, -1, len(b), len(b) + 1, len(b) + 256, math.MaxInt - 1, math.MaxInt} {
+			checkNoVoteAt(t, l, b, at, impl.ErShort)
+		}
+	}
+}
+
+// otherVotes are votes that differ from v in one part: in its value, in one
+// byte, or in its length.
+func otherVotes(v impl.Vote) []impl.Vote {
+	var list []impl.Vote
+	for _, in := range voteNumbers {
+		was := *in(&v)
+		for _, n := range []int{was + 1, was - 1, was ^ 128, was ^ 1<<32, -was - 1, was ^ math.MinInt} {
+			other := cloneVote(v)
+			*in(&other) = n
+			list = append(list, other)
+		}
+	}
+	for _, in := range voteHashes {
+		was := *in(&v)
+		changed := [][]byte{append(bytes.Clone(was), 0), append([]byte{0}, was...)}
+		for i := range was {
+			x := bytes.Clone(was)
+			x[i] ^= 1 << (i % 8)
+			changed = append(changed, x)
+		}
+		if len(was) > 0 {
+			changed = append(changed, was[1:], was[:len(was)-1], nil, []byte{})
+		}
+		for _, x := range changed {
+			other := cloneVote(v)
+			*in(&other) = x
+			list = append(list, other)
+		}
+	}
+	return list
+}
+
+func TestVoteSameOfOneDifference(t *testing.T) {
+	for _, v := range append(someVotes(10), oneVote(), impl.Vote{}, impl.Vote{View: -7, Height: math.MinInt, Block: []byte{1}, Who: math.MaxInt}) {
+		checkVoteSame(t, v, v, true)
+		checkVoteSame(t, v, cloneVote(v), true)
+		for _, other := range otherVotes(v) {
+			checkVoteSame(t, v, other, false)
+		}
+	}
+}
+
+// Small votes meet one another; bytes may stand in Block or in Tag, numbers in any field.
+func TestVoteSameOfSmallVotes(t *testing.T) {
+	var list []impl.Vote
+	parts := [][]byte{nil, {}, {0}, {1}, {0, 0}}
+	for at := range 8 {
+		for _, block := range parts {
+			for _, tag := range parts {
+				list = append(list, impl.Vote{View: at & 1, Height: at >> 1 & 1, Block: block, Who: at >> 2, Tag: tag})
+			}
+		}
+	}
+	for _, a := range list {
+		for _, b := range list {
+			if got := impl.VoteSame(a, b); got != writtenVoteSame(a, b) {
+				t.Errorf("VoteSame(%+v, %+v) = %v", a, b, got)
+			}
+		}
+	}
+}
+
+func TestVoteOfNil(t *testing.T) {
+	l, v := limitsFor(4), oneVote()
+	var parts [2][]byte
+	for i, b := range [][]byte{nil, {}} {
+		parts[i], _ = impl.PutVote(l, b, v)
+		checkHash(t, "PutVote behind nothing", parts[i], rawVote(v))
+		checkNoVoteAt(t, l, b, 0, impl.ErShort)
+	}
+	checkHash(t, "PutVote behind nil and behind nothing", parts[0], parts[1])
+	for _, x := range [][]byte{nil, {}} {
+		for _, y := range [][]byte{nil, {}} {
+			checkVoteSame(t, impl.Vote{Block: x}, impl.Vote{Tag: y}, true)
+			checkVoteSame(t, impl.Vote{Block: x, Tag: y}, impl.Vote{Block: y, Tag: x}, true)
+			checkVoteSame(t, impl.Vote{Block: x, Tag: goHash(1)}, impl.Vote{Block: y, Tag: goHash(1)}, true)
+			checkVoteSame(t, impl.Vote{Block: x}, impl.Vote{Block: []byte{0}}, false)
+			checkVoteSame(t, impl.Vote{Tag: x}, impl.Vote{Tag: []byte{0}}, false)
+			checkVoteOk(t, l, nil, impl.Vote{Block: x, Tag: y}, false)
+		}
+	}
+}
