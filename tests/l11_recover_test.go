@@ -125,24 +125,31 @@ func wrongVarints() [][]byte {
 	return list
 }
 
-// A number may be wrong in each of the three places, with the rest of the vote
-// behind it whole, cut anywhere or missing.
-func TestWrongNumbersOfVotes(t *testing.T) {
-	l, v := limitsFor(4), oneVote()
-	parts := [][]byte{varint(v.View), varint(v.Height), v.Block, varint(v.Who), v.Tag}
-	for _, place := range []int{0, 1, 3} {
+// eachWrongNumber replaces the number in each of the places by a wrong one or by
+// the beginning of one. What stands behind a wrong one is whole, cut anywhere or missing.
+func eachWrongNumber(parts [][]byte, places []int, check func(b []byte, code int)) {
+	for _, place := range places {
 		before, behind := slices.Concat(parts[:place]...), slices.Concat(parts[place+1:]...)
 		for _, wrong := range wrongVarints() {
 			for end := range len(behind) + 1 {
-				checkNoVoteAt(t, l, slices.Concat(before, wrong, behind[:end]), 0, impl.ErVar)
+				check(slices.Concat(before, wrong, behind[:end]), impl.ErVar)
 			}
-			checkNoVoteAt(t, l, slices.Concat(before, wrong, filled(100, 255)), 0, impl.ErVar)
+			check(slices.Concat(before, wrong, filled(100, 255)), impl.ErVar)
 		}
 		for size := 1; size < 9; size++ {
-			checkNoVoteAt(t, l, append(bytes.Clone(before), filled(size, 128)...), 0, impl.ErShort)
-			checkNoVoteAt(t, l, append(bytes.Clone(before), filled(size, 255)...), 0, impl.ErShort)
+			check(append(bytes.Clone(before), filled(size, 128)...), impl.ErShort)
+			check(append(bytes.Clone(before), filled(size, 255)...), impl.ErShort)
 		}
 	}
+}
+
+func TestWrongNumbersOfVotes(t *testing.T) {
+	l, v := limitsFor(4), oneVote()
+	parts := [][]byte{varint(v.View), varint(v.Height), v.Block, varint(v.Who), v.Tag}
+	eachWrongNumber(parts, []int{0, 1, 3}, func(b []byte, code int) {
+		t.Helper()
+		checkNoVoteAt(t, l, b, 0, code)
+	})
 }
 
 // A signer that does not exist is found before its tag is read.

@@ -341,30 +341,38 @@ func TestVoteOffsets(t *testing.T) {
 	}
 }
 
+// changedNumbers are ints other than n, near it and far from it.
+func changedNumbers(n int) []int {
+	return []int{n + 1, n - 1, n ^ 128, n ^ 1<<32, -n - 1, n ^ math.MinInt}
+}
+
+// changedBytes are byte strings that differ from x in one byte or in their length.
+func changedBytes(x []byte) [][]byte {
+	list := [][]byte{append(bytes.Clone(x), 0), append([]byte{0}, x...)}
+	for i := range x {
+		changed := bytes.Clone(x)
+		changed[i] ^= 1 << (i % 8)
+		list = append(list, changed)
+	}
+	if len(x) > 0 {
+		list = append(list, x[1:], x[:len(x)-1], nil, []byte{})
+	}
+	return list
+}
+
 // otherVotes are votes that differ from v in one part: in its value, in one
 // byte, or in its length.
 func otherVotes(v impl.Vote) []impl.Vote {
 	var list []impl.Vote
 	for _, in := range voteNumbers {
-		was := *in(&v)
-		for _, n := range []int{was + 1, was - 1, was ^ 128, was ^ 1<<32, -was - 1, was ^ math.MinInt} {
+		for _, n := range changedNumbers(*in(&v)) {
 			other := cloneVote(v)
 			*in(&other) = n
 			list = append(list, other)
 		}
 	}
 	for _, in := range voteHashes {
-		was := *in(&v)
-		changed := [][]byte{append(bytes.Clone(was), 0), append([]byte{0}, was...)}
-		for i := range was {
-			x := bytes.Clone(was)
-			x[i] ^= 1 << (i % 8)
-			changed = append(changed, x)
-		}
-		if len(was) > 0 {
-			changed = append(changed, was[1:], was[:len(was)-1], nil, []byte{})
-		}
-		for _, x := range changed {
+		for _, x := range changedBytes(*in(&v)) {
 			other := cloneVote(v)
 			*in(&other) = x
 			list = append(list, other)

@@ -1,0 +1,403 @@
+package tests
+
+import (
+	"bytes"
+	"fmt"
+	"slices"
+	"sync"
+	"testing"
+
+	"loop.example/g00790/impl"
+)
+
+// Chapter 1 for chapter 13: arguments and their spare capacity stay unchanged
+// (b, Block, Bits, the list of tags and every tag, the list of votes and the
+// Block and the Tag of each), results are new memory, and no function panics.
+
+// A heldQc is a certificate as it was given to a function: each slice has spare capacity.
+type heldQc struct {
+	given, want impl.Qc
+	tags        heldList
+}
+
+func holdQc(q impl.Qc) heldQc {
+	given, tags := q, holdList(q.Tags)
+	given.Block, given.Bits, given.Tags = roomy(q.Block), roomy(q.Bits), tags.given
+	return heldQc{given, cloneQc(q), tags}
+}
+
+// check reports a change of the certificate or of the capacity behind its parts.
+func (h heldQc) check(t *testing.T, what string) {
+	t.Helper()
+	checkRoomy(t, what+", Block", h.given.Block, h.want.Block)
+	checkRoomy(t, what+", Bits", h.given.Bits, h.want.Bits)
+	h.tags.check(t, what+", Tags")
+}
+
+// overwriteQc changes everything that belongs to a certificate.
+func overwriteQc(q impl.Qc) {
+	overwriteBytes(q.Block)
+	overwriteBytes(q.Bits)
+	overwriteList(q.Tags)
+}
+
+// A heldVotes is a list of votes as it was given to a function.
+type heldVotes struct {
+	given []impl.Vote // with spare capacity, and so has each Block and each Tag
+	all   []impl.Vote // the votes of given and those in its spare capacity
+	want  []impl.Vote
+}
+
+func holdVotes(list []impl.Vote) heldVotes {
+	var all []impl.Vote
+	spare := impl.Vote{View: -spareByte, Height: -spareByte, Block: []byte{spareByte}, Who: -spareByte, Tag: []byte{spareByte}}
+	for _, v := range append(slices.Clone(list), slices.Repeat([]impl.Vote{spare}, spareSize)...) {
+		v.Block, v.Tag = roomy(v.Block), roomy(v.Tag)
+		all = append(all, v)
+	}
+	return heldVotes{slices.Clone(all)[:len(list)], all, cloneVotes(append(slices.Clone(list), slices.Repeat([]impl.Vote{spare}, spareSize)...))}
+}
+
+// check reports a change of the list, of its votes, or of the capacity behind both.
+func (h heldVotes) check(t *testing.T, what string) {
+	t.Helper()
+	for i, v := range h.given[:len(h.all)] {
+		if !samePlace(v.Block, h.all[i].Block) || !samePlace(v.Tag, h.all[i].Tag) || !writtenVoteSame(v, h.want[i]) {
+			t.Errorf("%s: vote %d of %d became %+v", what, i, len(h.given), v)
+			continue
+		}
+		checkRoomy(t, fmt.Sprintf("%s, Block of vote %d", what, i), v.Block, h.want[i].Block)
+		checkRoomy(t, fmt.Sprintf("%s, Tag of vote %d", what, i), v.Tag, h.want[i].Tag)
+	}
+}
+
+// overwriteVotes changes a list of votes, their parts, and the capacity behind all.
+func overwriteVotes(list []impl.Vote) {
+	all := list[:cap(list)]
+	for i := range all {
+		overwriteBytes(all[i].Block)
+		overwriteBytes(all[i].Tag)
+		all[i] = impl.Vote{View: scribble, Height: scribble, Block: []byte{scribble}, Who: scribble, Tag: []byte{scribble}}
+	}
+}
+
+// partsOfQc and partsOfVotes are all byte strings of a result.
+func partsOfQc(q impl.Qc) [][]byte { return append([][]byte{q.Block, q.Bits}, q.Tags...) }
+
+func partsOfVotes(list []impl.Vote) [][]byte {
+	var parts [][]byte
+	for _, v := range list {
+		parts = append(parts, v.Block, v.Tag)
+	}
+	return parts
+}
+
+// oddQcs are certificates that are not valid for four validators, with as many
+// tags as set bits or not.
+func oddQcs() []impl.Qc {
+	list := []impl.Qc{{}, {Block: []byte{}, Bits: []byte{}, Tags: [][]byte{}}, qcWith(255), qcWith(1, 2), qcWith(filled(20, 170)...), {Bits: []byte{7}, Tags: [][]byte{nil, {}, {1}}}}
+	for _, q := range otherQcs(oneQc()) {
+		if !writtenQcOk(limitsFor(4), q) {
+			list = append(list, q)
+		}
+	}
+	return list
+}
+
+// pureQcInputs are encodings of certificates, and bytes that are none.
+func pureQcInputs() [][]byte {
+	list := [][]byte{nil, {}, {128}, {128, 0}, {1, 2}, filled(34, 0), filled(35, 0), filled(66, 1), filled(67, 1), filled(80, 255), rawQc(qcWith(16)), rawQc(qcWith(255))}
+	for _, q := range []impl.Qc{oneQc(), qcWith(0), {View: impl.MaxNum, Height: impl.MaxNum, Block: filled(32, 255), Bits: []byte{1}, Tags: [][]byte{filled(32, 255)}}} {
+		b := rawQc(q)
+		list = append(list, b, b[:len(b)-1], b[:len(b)-32], append(bytes.Clone(b), b...), append([]byte{0}, b...))
+	}
+	return list
+}
+
+func TestPutQcPure(t *testing.T) {
+	for _, q := range append(oddQcs(), oneQc(), qcWith(0), qcWith(15), impl.Qc{Block: goHash(1), Bits: []byte{0}}) {
+		for _, l := range []impl.Limits{limitsFor(4), limitsFor(10), {}} {
+			for _, b := range [][]byte{nil, {}, {1}, filled(100, 7)} {
+				what := fmt.Sprintf("PutQc(%v, %v, %+v)", l, b, q)
+				held := holdQc(q)
+				checkPure(t, what, func(a [][]byte) []byte {
+					out, _ := impl.PutQc(l, a[0], held.given)
+					held.check(t, what)
+					return out
+				}, b)
+				held.check(t, what+", its result overwritten")
+			}
+		}
+	}
+}
+
+// The slice of PutQc is its own: also where b has room for all of it, and where
+// Block, Bits and the tags lie in b, behind b, or in one another.
+func TestPutQcOfSharedMemory(t *testing.T) {
+	all := mixedBytes(300, 3)
+	all[40], all[72], all[104] = 3, 3, 3
+	before := bytes.Clone(all)
+	hash := all[40:72]
+	for _, q := range []impl.Qc{
+		{View: 300, Height: 2, Block: hash, Bits: hash[:1], Tags: [][]byte{hash, hash}},
+		{View: 300, Height: 2, Block: all[0:32], Bits: all[72:73], Tags: [][]byte{all[5:37], all[0:32]}},
+		{View: 300, Height: 2, Block: all[8:40], Bits: all[40:41], Tags: [][]byte{all[41:73], all[73:105]}},
+		{View: 300, Height: 2, Block: all[268:], Bits: all[104:105], Tags: [][]byte{all[100:132], all[105:137]}},
+	} {
+		for _, size := range []int{0, 1, 10, 40, 72, 299, 300} {
+			want := slices.Concat(before[:size], rawQc(cloneQc(q)))
+			got, ok := impl.PutQc(limitsFor(4), all[:size], q)
+			checkPut(t, "PutQc of shared memory", got, ok, want)
+			checkHash(t, "the memory", all, before)
+			overwriteBytes(got)
+			checkHash(t, "the memory, the result overwritten", all, before)
+			got, _ = impl.PutQc(limitsFor(4), all[:size], q)
+			overwriteBytes(all)
+			checkHash(t, "PutQc, the memory overwritten", got, want)
+			copy(all, before)
+		}
+	}
+}
+
+// Two certificates appended to one slice do not meet in its spare capacity.
+func TestPutQcTwice(t *testing.T) {
+	b := make([]byte, 3, 600)
+	first, second := oneQc(), qcWith(10)
+	second.View = 301
+	x, _ := impl.PutQc(limitsFor(4), b, first)
+	y, _ := impl.PutQc(limitsFor(4), b, second)
+	z, _ := impl.PutQc(limitsFor(4), x, second)
+	checkHash(t, "the first certificate", x, slices.Concat(b, rawQc(first)))
+	checkHash(t, "the second certificate", y, slices.Concat(b, rawQc(second)))
+	checkHash(t, "both certificates", z, slices.Concat(b, rawQc(first), rawQc(second)))
+	overwriteBytes(x)
+	checkHash(t, "the second certificate, the first overwritten", y, slices.Concat(b, rawQc(second)))
+	checkHash(t, "both certificates, the first overwritten", z, slices.Concat(b, rawQc(first), rawQc(second)))
+}
+
+func TestGetQcPure(t *testing.T) {
+	for _, b := range pureQcInputs() {
+		for _, l := range []impl.Limits{limitsFor(4), limitsFor(1), limitsFor(10), {}} {
+			for _, at := range []int{-1, 0, 1, len(b) / 2, len(b), len(b) + 1} {
+				what := fmt.Sprintf("GetQc(%v, %v, %d)", l, b, at)
+				given := roomy(b)
+				first, _, er := impl.GetQc(l, given, at)
+				want := cloneQc(first)
+				checkRoomy(t, what, given, b)
+				overwriteQc(first)
+				checkRoomy(t, what+", its result overwritten", given, b)
+				second, _, erAgain := impl.GetQc(l, given, at)
+				overwriteBytes(given)
+				if er != erAgain || !writtenQcSame(second, want) {
+					t.Errorf("%s: %+v, %d and then %+v, %d", what, want, er, second, erAgain)
+				}
+				checkElementsApart(t, what, partsOfQc(second))
+			}
+		}
+	}
+}
+
+// What is appended to the tags of a certificate does not reach a copy of it.
+func TestTagsAppendedToCopies(t *testing.T) {
+	for _, q := range []impl.Qc{oneQc(), qcWith(0), qcWith(15)} {
+		read, _, _ := impl.GetQc(limitsFor(4), rawQc(q), 0)
+		first, second := append(read.Tags, goHash(1)), append(read.Tags, goHash(2))
+		if !sameList(first, append(slices.Clone(q.Tags), goHash(1))) || !sameList(second, append(slices.Clone(q.Tags), goHash(2))) {
+			t.Errorf("the tags of %+v with one more are %v and %v", q, first, second)
+		}
+	}
+}
+
+func TestQcQuestionsPure(t *testing.T) {
+	for _, q := range append(oddQcs(), oneQc(), qcWith(0)) {
+		for _, l := range []impl.Limits{limitsFor(4), {}} {
+			what := fmt.Sprintf("the questions about %+v", q)
+			held, other := holdQc(q), holdQc(oneQc())
+			for range 2 {
+				if got := impl.QcOk(l, held.given); got != writtenQcOk(l, q) {
+					t.Errorf("%s: QcOk is %v", what, got)
+				}
+				checkQcSame(t, held.given, other.given, writtenQcSame(q, oneQc()))
+				checkQcSame(t, held.given, held.given, true)
+				held.check(t, what)
+				other.check(t, what)
+			}
+		}
+	}
+}
+
+func TestQcVotesPure(t *testing.T) {
+	list := append(oddQcs(), oneQc(), qcWith(0), qcWith(255, 3), qcWith(filled(30, 255)...))
+	hash := goHash(5)
+	list = append(list, impl.Qc{Block: hash, Bits: hash, Tags: slices.Repeat([][]byte{hash}, len(setBits(hash)))})
+	for _, q := range list {
+		what := fmt.Sprintf("QcVotes(%+v)", q)
+		held := holdQc(q)
+		first := impl.QcVotes(held.given)
+		want := cloneVotes(first)
+		held.check(t, what)
+		overwriteVotes(first)
+		held.check(t, what+", its result overwritten")
+		second := impl.QcVotes(held.given)
+		overwriteQc(held.given)
+		if !sameVotes(want, writtenQcVotes(q)) || !sameVotes(second, want) {
+			t.Errorf("%s: %+v and then %+v", what, want, second)
+		}
+		checkElementsApart(t, what, partsOfVotes(second))
+	}
+}
+
+// pureVotes are lists of votes with and without a certificate.
+func pureVotes() [][]impl.Vote {
+	hash := goHash(5)
+	lists := [][]impl.Vote{
+		nil, {}, {{}}, make([]impl.Vote, 20), votesBy(0), votesBy(3), votesBy(0, 2), votesBy(0, 1, 2, 3),
+		votesBy(1, 0), votesBy(2, 2), votesBy(0, 4), votesBy(-1, 0), votesBy(0, 1, 2, 3, 4, 5, 6, 7, 8, 9),
+		{{Block: hash, Tag: hash}, {Block: hash, Who: 1, Tag: hash}, {Block: hash, Who: 3, Tag: hash}},
+	}
+	for _, v := range append(oddVotes(), otherVotes(oneVote())...) {
+		lists = append(lists, []impl.Vote{v}, append(votesBy(0, 1), v), append([]impl.Vote{v}, votesBy(3)...))
+	}
+	return lists
+}
+
+func TestQcFromPure(t *testing.T) {
+	for _, list := range pureVotes() {
+		for _, l := range []impl.Limits{limitsFor(4), limitsFor(10), {}} {
+			what := fmt.Sprintf("QcFrom(%v, %+v)", l, list)
+			held := holdVotes(list)
+			first, ok := impl.QcFrom(l, held.given)
+			want := cloneQc(first)
+			held.check(t, what)
+			overwriteQc(first)
+			held.check(t, what+", its result overwritten")
+			second, okAgain := impl.QcFrom(l, held.given)
+			overwriteVotes(held.given)
+			if ok != okAgain || !writtenQcSame(second, want) {
+				t.Errorf("%s: %+v, %v and then %+v, %v", what, want, ok, second, okAgain)
+			}
+			checkFromVotes(t, l, list)
+			checkElementsApart(t, what, partsOfQc(second))
+		}
+	}
+}
+
+// Votes may share their Block with each other and with their tags, as a caller writes them.
+func TestQcFromVotesOfSharedMemory(t *testing.T) {
+	all := mixedBytes(200, 4)
+	before := bytes.Clone(all)
+	block := all[10:42]
+	list := []impl.Vote{{View: 1, Block: block, Tag: block}, {View: 1, Block: block, Who: 1, Tag: all[20:52]}, {View: 1, Block: block, Who: 3, Tag: all[168:]}}
+	want := impl.Qc{View: 1, Block: bytes.Clone(block), Bits: []byte{11}, Tags: deepClone([][]byte{block, all[20:52], all[168:]})}
+	q, ok := impl.QcFrom(limitsFor(4), list)
+	if !ok || !writtenQcSame(q, want) {
+		t.Errorf("QcFrom of shared memory: %+v, %v", q, ok)
+	}
+	votes := impl.QcVotes(impl.Qc{View: 1, Block: block, Bits: []byte{11}, Tags: [][]byte{block, all[20:52], all[168:]}})
+	overwriteQc(q)
+	checkHash(t, "the memory", all, before)
+	q, _ = impl.QcFrom(limitsFor(4), list)
+	overwriteBytes(all)
+	checkQcSame(t, q, want, true)
+	if !sameVotes(votes, writtenQcVotes(want)) {
+		t.Errorf("QcVotes of shared memory: %+v", votes)
+	}
+	checkElementsApart(t, "QcVotes of shared memory", partsOfVotes(votes))
+}
+
+// A call does not keep what it returned: the next one has memory of its own.
+func TestQcResultsAreNew(t *testing.T) {
+	l, q := limitsFor(4), oneQc()
+	b, list := rawQc(q), impl.QcVotes(q)
+	first, _, _ := impl.GetQc(l, b, 0)
+	second, _, _ := impl.GetQc(l, b, 0)
+	overwriteQc(first)
+	checkQcSame(t, second, oneQc(), true)
+	first, _ = impl.QcFrom(l, list)
+	second, _ = impl.QcFrom(l, list)
+	overwriteQc(first)
+	checkQcSame(t, second, oneQc(), true)
+	again := impl.QcVotes(q)
+	overwriteVotes(list)
+	if !sameVotes(again, writtenQcVotes(oneQc())) {
+		t.Errorf("QcVotes, the first result overwritten: %+v", again)
+	}
+	checkQcAt(t, l, b, 0, oneQc(), len(b), impl.ErOk)
+	checkVotes(t, q)
+}
+
+func TestQcVotesOfNil(t *testing.T) {
+	for _, x := range [][]byte{nil, {}} {
+		for _, tags := range [][][]byte{nil, {}} {
+			checkNoVotes(t, impl.Qc{Block: x, Bits: x, Tags: tags})
+			checkNoVotes(t, impl.Qc{Block: goHash(1), Bits: []byte{0, 0}, Tags: tags})
+			checkNoVotes(t, impl.Qc{Block: x, Bits: []byte{1}, Tags: tags})
+		}
+		got := impl.QcVotes(impl.Qc{Block: x, Bits: []byte{2}, Tags: [][]byte{x}})
+		if !sameVotes(got, []impl.Vote{{Who: 1}}) {
+			t.Errorf("QcVotes of a certificate of nil and empty parts: %+v", got)
+		}
+		checkNoQcFrom(t, limitsFor(4), []impl.Vote{{Block: x, Tag: x}})
+		checkNoQcFrom(t, limitsFor(4), []impl.Vote{{Block: goHash(1), Tag: x}})
+		checkNoQcFrom(t, limitsFor(4), []impl.Vote{{Block: x, Tag: goHash(1)}})
+	}
+}
+
+// Every function takes all ints, whatever the other arguments are.
+func TestQcsOfExtremes(t *testing.T) {
+	lists := [][][]byte{nil, {goHash(1)}, {filled(33, 1), nil}}
+	for i, n := range extremes {
+		for j, m := range extremes {
+			q := impl.Qc{View: n, Height: m, Block: goHash(1), Bits: []byte{byte(i % 3)}, Tags: lists[j%3]}
+			for _, l := range []impl.Limits{limitsFor(8), {N: n, Tx: m, Txs: n, Frame: m, Heads: n}, limitsFor(m)} {
+				checkQcOk(t, l, nil, q, writtenQcOk(l, q))
+				checkQcSame(t, q, cloneQc(q), true)
+				checkVotes(t, q)
+				checkFromVotes(t, l, writtenQcVotes(q))
+			}
+		}
+		for _, b := range pureQcInputs() {
+			for _, l := range append(wrongLimits(), limitsFor(10), limitsFor(n)) {
+				checkQcInput(t, l, b, n)
+				checkQcInput(t, l, b, len(b)+n)
+			}
+		}
+	}
+}
+
+// A call in between, also a refused one, leaves nothing behind.
+func TestQcsKeepNoState(t *testing.T) {
+	l, q := limitsFor(4), oneQc()
+	for i, b := range pureQcInputs() {
+		impl.GetQc(limitsFor(i), b, 0)
+		impl.GetQc(impl.Limits{}, b, 1)
+		impl.PutQc(limitsFor(i), b, qcWith(byte(i)))
+		impl.PutQc(l, b, impl.Qc{})
+		impl.QcOk(impl.Limits{}, q)
+		impl.QcSame(q, impl.Qc{})
+		impl.QcVotes(qcWith(b...))
+		impl.QcFrom(limitsFor(i), votesBy(i, i))
+		impl.QcFrom(l, votesBy(i))
+		checkQcOk(t, l, nil, q, true)
+		checkQcAt(t, l, rawQc(q), 0, q, len(rawQc(q)), impl.ErOk)
+		checkNoQcAt(t, l, rawQc(q)[:50], 0, impl.ErShort)
+		checkThereAndBack(t, l, q)
+	}
+}
+
+func TestQcsAtTheSameTime(t *testing.T) {
+	var group sync.WaitGroup
+	all, q, list := make([]byte, 3, 500), oneQc(), votesBy(0, 2, 3)
+	for n := 1; n <= impl.MaxSigners; n++ {
+		group.Go(func() {
+			for _, q := range someQcs(n) {
+				checkQcOk(t, limitsFor(n), all, q, true)
+				checkQcAt(t, limitsFor(n), rawQc(q), 0, q, len(rawQc(q)), impl.ErOk)
+				checkVotes(t, q)
+			}
+			checkThereAndBack(t, limitsFor(4), q)
+			checkBackAndThere(t, limitsFor(4), list)
+		})
+	}
+	group.Wait()
+}
