@@ -2,8 +2,6 @@ package tests
 
 import (
 	"bytes"
-	"fmt"
-	"slices"
 	"sync"
 	"testing"
 
@@ -12,6 +10,23 @@ import (
 
 // Chapter 1 for chapter 12: arguments and their spare capacity stay unchanged,
 // results are new memory, and no function panics.
+
+func holdVote(v impl.Vote) held[impl.Vote] {
+	given, want := v, cloneVote(v)
+	given.Block, given.Tag = roomy(v.Block), roomy(v.Tag)
+	return held[impl.Vote]{given, func(t *testing.T, what string) {
+		t.Helper()
+		checkRoomy(t, what+", Block", given.Block, want.Block)
+		checkRoomy(t, what+", Tag", given.Tag, want.Tag)
+	}}
+}
+
+func partsOfVote(v impl.Vote) [][]byte { return [][]byte{v.Block, v.Tag} }
+
+func overwriteVote(v impl.Vote) {
+	overwriteBytes(v.Block)
+	overwriteBytes(v.Tag)
+}
 
 // oddVotes are votes that are not valid.
 func oddVotes() []impl.Vote {
@@ -42,23 +57,13 @@ func pureInputs() [][]byte {
 }
 
 func TestPutVotePure(t *testing.T) {
-	for _, v := range append(oddVotes(), oneVote(), impl.Vote{Block: goHash(1), Tag: goHash(1)}) {
-		for _, l := range []impl.Limits{limitsFor(4), limitsFor(10), {}} {
-			for _, b := range [][]byte{nil, {}, {1}, filled(100, 7)} {
-				checkPure(t, fmt.Sprintf("PutVote(%v, %v, %+v)", l, b, v), func(a [][]byte) []byte {
-					out, _ := impl.PutVote(l, a[0], impl.Vote{View: v.View, Height: v.Height, Block: a[1], Who: v.Who, Tag: a[2]})
-					return out
-				}, b, v.Block, v.Tag)
-			}
-		}
-	}
+	voteCodec.checkPutPure(t, append(oddVotes(), oneVote(), impl.Vote{Block: goHash(1), Tag: goHash(1)}))
 }
 
 // The slice of PutVote is its own: also where b has room for all of it, and
 // where Block and Tag lie in b, behind b, or in one another.
 func TestPutVoteOfSharedMemory(t *testing.T) {
 	all := mixedBytes(200, 3)
-	before := bytes.Clone(all)
 	hash := all[40:72]
 	for _, v := range []impl.Vote{
 		{View: 300, Height: 2, Block: hash, Who: 3, Tag: hash},
@@ -67,80 +72,23 @@ func TestPutVoteOfSharedMemory(t *testing.T) {
 		{View: 300, Height: 2, Block: all[2:34], Who: 3, Tag: all[35:67]},
 		{View: 300, Height: 2, Block: all[168:], Who: 3, Tag: all[100:132]},
 	} {
-		for _, size := range []int{0, 1, 10, 40, 72, 199, 200} {
-			want := slices.Concat(before[:size], rawVote(cloneVote(v)))
-			got, ok := impl.PutVote(limitsFor(4), all[:size], v)
-			checkPut(t, "PutVote of shared memory", got, ok, want)
-			checkHash(t, "the memory", all, before)
-			overwriteBytes(got)
-			checkHash(t, "the memory, the result overwritten", all, before)
-			got, _ = impl.PutVote(limitsFor(4), all[:size], v)
-			overwriteBytes(all)
-			checkHash(t, "PutVote, the memory overwritten", got, want)
-			copy(all, before)
-		}
+		voteCodec.checkPutShared(t, all, []int{0, 1, 10, 40, 72, 199, 200}, v)
 	}
 }
 
-// Two votes appended to one slice do not meet in its spare capacity.
 func TestPutVoteTwice(t *testing.T) {
-	b := make([]byte, 3, 300)
-	first, second := oneVote(), oneVote()
+	second := oneVote()
 	second.View, second.Who = 301, 1
-	x, _ := impl.PutVote(limitsFor(4), b, first)
-	y, _ := impl.PutVote(limitsFor(4), b, second)
-	z, _ := impl.PutVote(limitsFor(4), x, second)
-	checkHash(t, "the first vote", x, slices.Concat(b, rawVote(first)))
-	checkHash(t, "the second vote", y, slices.Concat(b, rawVote(second)))
-	checkHash(t, "both votes", z, slices.Concat(b, rawVote(first), rawVote(second)))
-	overwriteBytes(x)
-	checkHash(t, "the second vote, the first overwritten", y, slices.Concat(b, rawVote(second)))
-	checkHash(t, "both votes, the first overwritten", z, slices.Concat(b, rawVote(first), rawVote(second)))
+	voteCodec.checkPutTwice(t, oneVote(), second)
 }
 
-func TestGetVotePure(t *testing.T) {
-	for _, b := range pureInputs() {
-		for _, l := range []impl.Limits{limitsFor(4), limitsFor(1), {}} {
-			for _, at := range []int{-1, 0, 1, len(b) / 2, len(b), len(b) + 1} {
-				what := fmt.Sprintf("GetVote(%v, %v, %d)", l, b, at)
-				for _, in := range voteHashes {
-					checkPure(t, what, func(a [][]byte) []byte {
-						v, _, _ := impl.GetVote(l, a[0], at)
-						return *in(&v)
-					}, b)
-				}
-				given := roomy(b)
-				v, _, _ := impl.GetVote(l, given, at)
-				want := cloneVote(v)
-				overwriteBytes(given)
-				checkVoteSame(t, v, want, true)
-				checkElementsApart(t, what, [][]byte{v.Block, v.Tag})
-			}
-		}
-	}
-}
+func TestGetVotePure(t *testing.T) { voteCodec.checkGetPure(t, pureInputs()) }
 
 func TestVoteQuestionsPure(t *testing.T) {
-	for _, v := range append(oddVotes(), oneVote()) {
-		for _, l := range []impl.Limits{limitsFor(4), {}} {
-			checkPure(t, fmt.Sprintf("the questions about %+v", v), func(a [][]byte) []byte {
-				x := impl.Vote{View: v.View, Height: v.Height, Block: a[0], Who: v.Who, Tag: a[1]}
-				return append(oneByte(impl.VoteOk(l, x)), oneByte(impl.VoteSame(x, oneVote()))...)
-			}, v.Block, v.Tag)
-		}
-	}
+	voteCodec.checkQuestionsPure(t, oneVote(), append(oddVotes(), oneVote()))
 }
 
-// A call does not keep what it returned: the next one has memory of its own.
-func TestVoteResultsAreNew(t *testing.T) {
-	b := rawVote(oneVote())
-	first, _, _ := impl.GetVote(limitsFor(4), b, 0)
-	second, _, _ := impl.GetVote(limitsFor(4), b, 0)
-	overwriteBytes(first.Block)
-	overwriteBytes(first.Tag)
-	checkVoteSame(t, second, oneVote(), true)
-	checkVoteAt(t, limitsFor(4), b, 0, oneVote(), len(b), impl.ErOk)
-}
+func TestVoteResultsAreNew(t *testing.T) { voteCodec.checkGetNew(t, limitsFor(4), oneVote()) }
 
 // Every function takes all ints, whatever the other arguments are.
 func TestVotesOfExtremes(t *testing.T) {
@@ -151,15 +99,15 @@ func TestVotesOfExtremes(t *testing.T) {
 			for _, who := range extremes {
 				v.Who = who
 				for _, l := range []impl.Limits{limitsFor(10), {N: n, Tx: m, Txs: n, Frame: m, Heads: n}, limitsFor(m)} {
-					checkVoteOk(t, l, nil, v, writtenVoteOk(l, v))
-					checkVoteSame(t, v, cloneVote(v), true)
+					voteCodec.checkOk(t, l, nil, v, writtenVoteOk(l, v))
+					voteCodec.checkSame(t, v, cloneVote(v), true)
 				}
 			}
 		}
 		for _, b := range pureInputs() {
 			for _, l := range append(wrongLimits(), limitsFor(10), limitsFor(n)) {
-				checkVoteInput(t, l, b, n)
-				checkVoteInput(t, l, b, len(b)+n)
+				voteCodec.checkInput(t, l, b, n)
+				voteCodec.checkInput(t, l, b, len(b)+n)
 			}
 		}
 	}
@@ -175,9 +123,9 @@ func TestVotesKeepNoState(t *testing.T) {
 		impl.PutVote(l, b, impl.Vote{})
 		impl.VoteOk(impl.Limits{}, v)
 		impl.VoteSame(v, impl.Vote{})
-		checkVoteOk(t, l, nil, v, true)
-		checkVoteAt(t, l, rawVote(v), 0, v, len(rawVote(v)), impl.ErOk)
-		checkNoVoteAt(t, l, rawVote(v)[:50], 0, impl.ErShort)
+		voteCodec.checkOk(t, l, nil, v, true)
+		voteCodec.checkAt(t, l, rawVote(v), 0, v, len(rawVote(v)), impl.ErOk)
+		voteCodec.checkNoneAt(t, l, rawVote(v)[:50], 0, impl.ErShort)
 	}
 }
 
@@ -187,8 +135,8 @@ func TestVotesAtTheSameTime(t *testing.T) {
 	for n := 1; n <= impl.MaxSigners; n++ {
 		group.Go(func() {
 			for _, v := range someVotes(n) {
-				checkVoteOk(t, limitsFor(n), all, v, true)
-				checkVoteAt(t, limitsFor(n), rawVote(v), 0, v, len(rawVote(v)), impl.ErOk)
+				voteCodec.checkOk(t, limitsFor(n), all, v, true)
+				voteCodec.checkAt(t, limitsFor(n), rawVote(v), 0, v, len(rawVote(v)), impl.ErOk)
 			}
 		})
 	}

@@ -3,7 +3,6 @@ package tests
 import (
 	"bytes"
 	"encoding/binary"
-	"fmt"
 	"math"
 	"slices"
 	"testing"
@@ -130,47 +129,10 @@ func writtenGetVote(l impl.Limits, b []byte, at int) (impl.Vote, int, int) {
 	return impl.Vote{View: view, Height: height, Block: block, Who: who, Tag: tag}, next, impl.ErOk
 }
 
-// checkVoteOk compares VoteOk and PutVote behind b with the chapter.
-func checkVoteOk(t *testing.T, l impl.Limits, b []byte, v impl.Vote, want bool) {
-	t.Helper()
-	if got := impl.VoteOk(l, v); got != want {
-		t.Errorf("VoteOk(%+v, %+v) = %v", l, v, got)
-	}
-	var bytesWanted []byte
-	if want {
-		bytesWanted = slices.Concat(b, rawVote(v))
-	}
-	got, ok := impl.PutVote(l, b, v)
-	checkPut(t, fmt.Sprintf("PutVote(%+v, %v, %+v)", l, b, v), got, ok, bytesWanted)
-}
-
-// checkVoteSame asks in both directions.
-func checkVoteSame(t *testing.T, a, b impl.Vote, want bool) {
-	t.Helper()
-	if impl.VoteSame(a, b) != want || impl.VoteSame(b, a) != want {
-		t.Errorf("VoteSame of %+v and %+v: %v and %v", a, b, impl.VoteSame(a, b), impl.VoteSame(b, a))
-	}
-}
-
-// checkVoteAt reports what GetVote returns if it is not as wanted.
-func checkVoteAt(t *testing.T, l impl.Limits, b []byte, at int, want impl.Vote, wantNext, wantEr int) {
-	t.Helper()
-	v, next, er := impl.GetVote(l, b, at)
-	if !writtenVoteSame(v, want) || next != wantNext || er != wantEr {
-		t.Errorf("GetVote(%+v, %v, %d): %+v, %d, %d instead of %+v, %d, %d", l, b, at, v, next, er, want, wantNext, wantEr)
-	}
-}
-
-func checkNoVoteAt(t *testing.T, l impl.Limits, b []byte, at int, code int) {
-	t.Helper()
-	checkVoteAt(t, l, b, at, impl.Vote{}, 0, code)
-}
-
-// checkVoteInput compares GetVote with the chapter.
-func checkVoteInput(t *testing.T, l impl.Limits, b []byte, at int) {
-	t.Helper()
-	v, next, er := writtenGetVote(l, b, at)
-	checkVoteAt(t, l, b, at, v, next, er)
+var voteCodec = codec[impl.Vote]{
+	name: "Vote", ok: impl.VoteOk, same: impl.VoteSame, put: impl.PutVote, get: impl.GetVote,
+	writtenOk: writtenVoteOk, writtenSame: writtenVoteSame, writtenGet: writtenGetVote, raw: rawVote,
+	others: otherVotes, clone: cloneVote, hold: holdVote, parts: partsOfVote, ruin: overwriteVote,
 }
 
 func TestVoteKnown(t *testing.T) {
@@ -188,23 +150,14 @@ func TestVoteKnown(t *testing.T) {
 		{10, impl.Vote{View: 1152921504606846975, Height: 1152921504606846975, Block: block, Who: 8, Tag: tag}, slices.Concat(most, most, block, []byte{8}, tag)},
 	}
 	for _, c := range cases {
-		l := limitsFor(c.n)
-		checkVoteOk(t, l, nil, c.v, true)
-		got, ok := impl.PutVote(l, nil, c.v)
-		checkPut(t, "a known vote", got, ok, c.want)
-		got, ok = impl.PutVote(l, []byte{128, 0}, c.v)
-		checkPut(t, "a known vote behind two bytes", got, ok, slices.Concat([]byte{128, 0}, c.want))
-		checkVoteAt(t, l, c.want, 0, c.v, len(c.want), impl.ErOk)
-		checkVoteAt(t, l, slices.Concat([]byte{128, 0}, c.want, []byte{128}), 2, c.v, 2+len(c.want), impl.ErOk)
+		voteCodec.checkKnown(t, limitsFor(c.n), c.v, c.want)
 	}
 }
 
 func TestVotesOfEverySize(t *testing.T) {
 	for n := 1; n <= impl.MaxSigners; n++ {
 		for _, v := range someVotes(n) {
-			checkVoteOk(t, limitsFor(n), nil, v, true)
-			checkVoteOk(t, limitsFor(n), []byte{0, 255, 128}, v, true)
-			checkVoteInput(t, limitsFor(n), rawVote(v), 0)
+			voteCodec.checkValid(t, limitsFor(n), v)
 		}
 	}
 }
@@ -216,19 +169,19 @@ func TestVoteNumbers(t *testing.T) {
 		v := oneVote()
 		for _, n := range edgeNumbers() {
 			*in(&v) = n
-			checkVoteOk(t, l, nil, v, name != "Who" || n < 4)
-			checkVoteOk(t, l, []byte{5}, v, name != "Who" || n < 4)
-			checkVoteInput(t, l, rawVote(v), 0)
+			voteCodec.checkOk(t, l, nil, v, name != "Who" || n < 4)
+			voteCodec.checkOk(t, l, []byte{5}, v, name != "Who" || n < 4)
+			voteCodec.checkInput(t, l, rawVote(v), 0)
 		}
 		for _, n := range append(notNumbers, extremes...) {
 			*in(&v) = n
-			checkVoteOk(t, l, nil, v, writtenVoteOk(l, v))
-			checkVoteOk(t, l, []byte{5}, v, writtenVoteOk(l, v))
+			voteCodec.checkOk(t, l, nil, v, writtenVoteOk(l, v))
+			voteCodec.checkOk(t, l, []byte{5}, v, writtenVoteOk(l, v))
 		}
 		for _, n := range notNumbers {
 			*in(&v) = n
-			checkVoteOk(t, l, nil, v, false)
-			checkNoVoteAt(t, l, rawVote(v), 0, impl.ErVar)
+			voteCodec.checkOk(t, l, nil, v, false)
+			voteCodec.checkNoneAt(t, l, rawVote(v), 0, impl.ErVar)
 		}
 	}
 }
@@ -238,17 +191,17 @@ func TestVotesOfEverySigner(t *testing.T) {
 		l, v := limitsFor(n), oneVote()
 		for v.Who = -3; v.Who < n+200; v.Who++ {
 			ok := v.Who >= 0 && v.Who < n
-			checkVoteOk(t, l, nil, v, ok)
+			voteCodec.checkOk(t, l, nil, v, ok)
 			switch {
 			case ok:
-				checkVoteAt(t, l, rawVote(v), 0, v, len(rawVote(v)), impl.ErOk)
+				voteCodec.checkAt(t, l, rawVote(v), 0, v, len(rawVote(v)), impl.ErOk)
 			case v.Who >= n:
-				checkNoVoteAt(t, l, rawVote(v), 0, impl.ErValue)
+				voteCodec.checkNoneAt(t, l, rawVote(v), 0, impl.ErValue)
 			}
 		}
 		for _, v.Who = range notSigners(n) {
-			checkVoteOk(t, l, nil, v, false)
-			checkVoteInput(t, l, rawVote(v), 0)
+			voteCodec.checkOk(t, l, nil, v, false)
+			voteCodec.checkInput(t, l, rawVote(v), 0)
 		}
 	}
 }
@@ -259,19 +212,19 @@ func TestVoteHashes(t *testing.T) {
 		v := oneVote()
 		for size := range 100 {
 			*in(&v) = mixedBytes(size, size)
-			checkVoteOk(t, l, nil, v, size == 32)
-			checkVoteOk(t, l, []byte{5}, v, size == 32)
+			voteCodec.checkOk(t, l, nil, v, size == 32)
+			voteCodec.checkOk(t, l, []byte{5}, v, size == 32)
 		}
 		for _, x := range notHashes() {
 			*in(&v) = x
-			checkVoteOk(t, l, nil, v, false)
+			voteCodec.checkOk(t, l, nil, v, false)
 		}
 		for i := range 32 {
 			for _, c := range []byte{0, 1, 127, 128, 255} {
 				*in(&v) = filled(32, 3)
 				(*in(&v))[i] = c
-				checkVoteOk(t, l, nil, v, true)
-				checkVoteAt(t, l, rawVote(v), 0, v, len(rawVote(v)), impl.ErOk)
+				voteCodec.checkOk(t, l, nil, v, true)
+				voteCodec.checkAt(t, l, rawVote(v), 0, v, len(rawVote(v)), impl.ErOk)
 			}
 		}
 	}
@@ -288,7 +241,7 @@ func TestVoteParts(t *testing.T) {
 					for _, block := range hashes {
 						for _, tag := range hashes {
 							v := impl.Vote{View: view, Height: height, Block: block, Who: who, Tag: tag}
-							checkVoteOk(t, l, nil, v, writtenVoteOk(l, v))
+							voteCodec.checkOk(t, l, nil, v, writtenVoteOk(l, v))
 						}
 					}
 				}
@@ -297,48 +250,22 @@ func TestVoteParts(t *testing.T) {
 	}
 }
 
-// Only the number of validators matters, but the other limits must be valid too.
 func TestVoteLimits(t *testing.T) {
 	v := impl.Vote{View: 300, Height: 2, Block: goHash(7), Tag: goHash(9)}
 	for _, base := range append(someLimits, limitsFor(4)) {
-		checkVoteOk(t, base, nil, v, true)
-		checkVoteAt(t, base, rawVote(v), 0, v, len(rawVote(v)), impl.ErOk)
-		for _, f := range limitFields {
-			for _, n := range f.edges() {
-				l := f.with(base, n)
-				checkVoteOk(t, l, nil, v, n >= f.least && n <= f.most)
-				checkVoteInput(t, l, rawVote(v), 0)
-			}
-		}
+		voteCodec.checkLimits(t, base, v)
 	}
-	checkVoteOk(t, impl.Limits{}, nil, impl.Vote{}, false)
-	checkVoteOk(t, limitsFor(4), nil, impl.Vote{}, false)
+	voteCodec.checkOk(t, impl.Limits{}, nil, impl.Vote{}, false)
+	voteCodec.checkOk(t, limitsFor(4), nil, impl.Vote{}, false)
 }
 
-// Limits that are not valid come before all that is wrong with the bytes or the offset.
 func TestVoteOfWrongLimits(t *testing.T) {
 	inputs := [][]byte{nil, {}, {0}, {128}, {128, 0}, rawVote(oneVote()), rawVote(oneVote())[:20], filled(80, 255), filled(80, 0)}
-	for _, l := range wrongLimits() {
-		for _, b := range inputs {
-			for _, at := range append(extremes, len(b)-1, len(b), len(b)+1) {
-				checkNoVoteAt(t, l, b, at, impl.ErValue)
-			}
-			checkVoteOk(t, l, b, oneVote(), false)
-			checkVoteOk(t, l, b, impl.Vote{}, false)
-		}
-	}
+	voteCodec.checkWrongLimits(t, inputs, oneVote(), impl.Vote{})
 }
 
 func TestVoteOffsets(t *testing.T) {
-	l := limitsFor(4)
-	for _, b := range [][]byte{nil, {}, {0}, rawVote(oneVote()), filled(200, 1), filled(200, 128)} {
-		for at := -5; at < len(b)+5; at++ {
-			checkVoteInput(t, l, b, at)
-		}
-		for _, at := range []int{math.MinInt, math.MinInt + 1, -256, -2, -1, len(b), len(b) + 1, len(b) + 256, math.MaxInt - 1, math.MaxInt} {
-			checkNoVoteAt(t, l, b, at, impl.ErShort)
-		}
-	}
+	voteCodec.checkOffsets(t, limitsFor(4), rawVote(oneVote()), filled(200, 1), filled(200, 128))
 }
 
 // changedNumbers are ints other than n, near it and far from it.
@@ -363,31 +290,12 @@ func changedBytes(x []byte) [][]byte {
 // otherVotes are votes that differ from v in one part: in its value, in one
 // byte, or in its length.
 func otherVotes(v impl.Vote) []impl.Vote {
-	var list []impl.Vote
-	for _, in := range voteNumbers {
-		for _, n := range changedNumbers(*in(&v)) {
-			other := cloneVote(v)
-			*in(&other) = n
-			list = append(list, other)
-		}
-	}
-	for _, in := range voteHashes {
-		for _, x := range changedBytes(*in(&v)) {
-			other := cloneVote(v)
-			*in(&other) = x
-			list = append(list, other)
-		}
-	}
-	return list
+	return changedFields(v, cloneVote, voteNumbers, voteHashes)
 }
 
 func TestVoteSameOfOneDifference(t *testing.T) {
 	for _, v := range append(someVotes(10), oneVote(), impl.Vote{}, impl.Vote{View: -7, Height: math.MinInt, Block: []byte{1}, Who: math.MaxInt}) {
-		checkVoteSame(t, v, v, true)
-		checkVoteSame(t, v, cloneVote(v), true)
-		for _, other := range otherVotes(v) {
-			checkVoteSame(t, v, other, false)
-		}
+		voteCodec.checkDifferences(t, v)
 	}
 }
 
@@ -402,13 +310,7 @@ func TestVoteSameOfSmallVotes(t *testing.T) {
 			}
 		}
 	}
-	for _, a := range list {
-		for _, b := range list {
-			if got := impl.VoteSame(a, b); got != writtenVoteSame(a, b) {
-				t.Errorf("VoteSame(%+v, %+v) = %v", a, b, got)
-			}
-		}
-	}
+	voteCodec.checkEachPair(t, list)
 }
 
 func TestVoteOfNil(t *testing.T) {
@@ -417,17 +319,17 @@ func TestVoteOfNil(t *testing.T) {
 	for i, b := range [][]byte{nil, {}} {
 		parts[i], _ = impl.PutVote(l, b, v)
 		checkHash(t, "PutVote behind nothing", parts[i], rawVote(v))
-		checkNoVoteAt(t, l, b, 0, impl.ErShort)
+		voteCodec.checkNoneAt(t, l, b, 0, impl.ErShort)
 	}
 	checkHash(t, "PutVote behind nil and behind nothing", parts[0], parts[1])
 	for _, x := range [][]byte{nil, {}} {
 		for _, y := range [][]byte{nil, {}} {
-			checkVoteSame(t, impl.Vote{Block: x}, impl.Vote{Tag: y}, true)
-			checkVoteSame(t, impl.Vote{Block: x, Tag: y}, impl.Vote{Block: y, Tag: x}, true)
-			checkVoteSame(t, impl.Vote{Block: x, Tag: goHash(1)}, impl.Vote{Block: y, Tag: goHash(1)}, true)
-			checkVoteSame(t, impl.Vote{Block: x}, impl.Vote{Block: []byte{0}}, false)
-			checkVoteSame(t, impl.Vote{Tag: x}, impl.Vote{Tag: []byte{0}}, false)
-			checkVoteOk(t, l, nil, impl.Vote{Block: x, Tag: y}, false)
+			voteCodec.checkSame(t, impl.Vote{Block: x}, impl.Vote{Tag: y}, true)
+			voteCodec.checkSame(t, impl.Vote{Block: x, Tag: y}, impl.Vote{Block: y, Tag: x}, true)
+			voteCodec.checkSame(t, impl.Vote{Block: x, Tag: goHash(1)}, impl.Vote{Block: y, Tag: goHash(1)}, true)
+			voteCodec.checkSame(t, impl.Vote{Block: x}, impl.Vote{Block: []byte{0}}, false)
+			voteCodec.checkSame(t, impl.Vote{Tag: x}, impl.Vote{Tag: []byte{0}}, false)
+			voteCodec.checkOk(t, l, nil, impl.Vote{Block: x, Tag: y}, false)
 		}
 	}
 }

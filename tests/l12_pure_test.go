@@ -14,24 +14,15 @@ import (
 // (b, Block, Bits, the list of tags and every tag, the list of votes and the
 // Block and the Tag of each), results are new memory, and no function panics.
 
-// A heldQc is a certificate as it was given to a function: each slice has spare capacity.
-type heldQc struct {
-	given, want impl.Qc
-	tags        heldList
-}
-
-func holdQc(q impl.Qc) heldQc {
-	given, tags := q, holdList(q.Tags)
+func holdQc(q impl.Qc) held[impl.Qc] {
+	given, want, tags := q, cloneQc(q), holdList(q.Tags)
 	given.Block, given.Bits, given.Tags = roomy(q.Block), roomy(q.Bits), tags.given
-	return heldQc{given, cloneQc(q), tags}
-}
-
-// check reports a change of the certificate or of the capacity behind its parts.
-func (h heldQc) check(t *testing.T, what string) {
-	t.Helper()
-	checkRoomy(t, what+", Block", h.given.Block, h.want.Block)
-	checkRoomy(t, what+", Bits", h.given.Bits, h.want.Bits)
-	h.tags.check(t, what+", Tags")
+	return held[impl.Qc]{given, func(t *testing.T, what string) {
+		t.Helper()
+		checkRoomy(t, what+", Block", given.Block, want.Block)
+		checkRoomy(t, what+", Bits", given.Bits, want.Bits)
+		tags.check(t, what+", Tags")
+	}}
 }
 
 // overwriteQc changes everything that belongs to a certificate.
@@ -115,20 +106,7 @@ func pureQcInputs() [][]byte {
 }
 
 func TestPutQcPure(t *testing.T) {
-	for _, q := range append(oddQcs(), oneQc(), qcWith(0), qcWith(15), impl.Qc{Block: goHash(1), Bits: []byte{0}}) {
-		for _, l := range []impl.Limits{limitsFor(4), limitsFor(10), {}} {
-			for _, b := range [][]byte{nil, {}, {1}, filled(100, 7)} {
-				what := fmt.Sprintf("PutQc(%v, %v, %+v)", l, b, q)
-				held := holdQc(q)
-				checkPure(t, what, func(a [][]byte) []byte {
-					out, _ := impl.PutQc(l, a[0], held.given)
-					held.check(t, what)
-					return out
-				}, b)
-				held.check(t, what+", its result overwritten")
-			}
-		}
-	}
+	qcCodec.checkPutPure(t, append(oddQcs(), oneQc(), qcWith(0), qcWith(15), impl.Qc{Block: goHash(1), Bits: []byte{0}}))
 }
 
 // The slice of PutQc is its own: also where b has room for all of it, and where
@@ -136,7 +114,6 @@ func TestPutQcPure(t *testing.T) {
 func TestPutQcOfSharedMemory(t *testing.T) {
 	all := mixedBytes(300, 3)
 	all[40], all[72], all[104] = 3, 3, 3
-	before := bytes.Clone(all)
 	hash := all[40:72]
 	for _, q := range []impl.Qc{
 		{View: 300, Height: 2, Block: hash, Bits: hash[:1], Tags: [][]byte{hash, hash}},
@@ -144,58 +121,17 @@ func TestPutQcOfSharedMemory(t *testing.T) {
 		{View: 300, Height: 2, Block: all[8:40], Bits: all[40:41], Tags: [][]byte{all[41:73], all[73:105]}},
 		{View: 300, Height: 2, Block: all[268:], Bits: all[104:105], Tags: [][]byte{all[100:132], all[105:137]}},
 	} {
-		for _, size := range []int{0, 1, 10, 40, 72, 299, 300} {
-			want := slices.Concat(before[:size], rawQc(cloneQc(q)))
-			got, ok := impl.PutQc(limitsFor(4), all[:size], q)
-			checkPut(t, "PutQc of shared memory", got, ok, want)
-			checkHash(t, "the memory", all, before)
-			overwriteBytes(got)
-			checkHash(t, "the memory, the result overwritten", all, before)
-			got, _ = impl.PutQc(limitsFor(4), all[:size], q)
-			overwriteBytes(all)
-			checkHash(t, "PutQc, the memory overwritten", got, want)
-			copy(all, before)
-		}
+		qcCodec.checkPutShared(t, all, []int{0, 1, 10, 40, 72, 299, 300}, q)
 	}
 }
 
-// Two certificates appended to one slice do not meet in its spare capacity.
 func TestPutQcTwice(t *testing.T) {
-	b := make([]byte, 3, 600)
-	first, second := oneQc(), qcWith(10)
+	second := qcWith(10)
 	second.View = 301
-	x, _ := impl.PutQc(limitsFor(4), b, first)
-	y, _ := impl.PutQc(limitsFor(4), b, second)
-	z, _ := impl.PutQc(limitsFor(4), x, second)
-	checkHash(t, "the first certificate", x, slices.Concat(b, rawQc(first)))
-	checkHash(t, "the second certificate", y, slices.Concat(b, rawQc(second)))
-	checkHash(t, "both certificates", z, slices.Concat(b, rawQc(first), rawQc(second)))
-	overwriteBytes(x)
-	checkHash(t, "the second certificate, the first overwritten", y, slices.Concat(b, rawQc(second)))
-	checkHash(t, "both certificates, the first overwritten", z, slices.Concat(b, rawQc(first), rawQc(second)))
+	qcCodec.checkPutTwice(t, oneQc(), second)
 }
 
-func TestGetQcPure(t *testing.T) {
-	for _, b := range pureQcInputs() {
-		for _, l := range []impl.Limits{limitsFor(4), limitsFor(1), limitsFor(10), {}} {
-			for _, at := range []int{-1, 0, 1, len(b) / 2, len(b), len(b) + 1} {
-				what := fmt.Sprintf("GetQc(%v, %v, %d)", l, b, at)
-				given := roomy(b)
-				first, _, er := impl.GetQc(l, given, at)
-				want := cloneQc(first)
-				checkRoomy(t, what, given, b)
-				overwriteQc(first)
-				checkRoomy(t, what+", its result overwritten", given, b)
-				second, _, erAgain := impl.GetQc(l, given, at)
-				overwriteBytes(given)
-				if er != erAgain || !writtenQcSame(second, want) {
-					t.Errorf("%s: %+v, %d and then %+v, %d", what, want, er, second, erAgain)
-				}
-				checkElementsApart(t, what, partsOfQc(second))
-			}
-		}
-	}
-}
+func TestGetQcPure(t *testing.T) { qcCodec.checkGetPure(t, pureQcInputs()) }
 
 // What is appended to the tags of a certificate does not reach a copy of it.
 func TestTagsAppendedToCopies(t *testing.T) {
@@ -209,21 +145,7 @@ func TestTagsAppendedToCopies(t *testing.T) {
 }
 
 func TestQcQuestionsPure(t *testing.T) {
-	for _, q := range append(oddQcs(), oneQc(), qcWith(0)) {
-		for _, l := range []impl.Limits{limitsFor(4), {}} {
-			what := fmt.Sprintf("the questions about %+v", q)
-			held, other := holdQc(q), holdQc(oneQc())
-			for range 2 {
-				if got := impl.QcOk(l, held.given); got != writtenQcOk(l, q) {
-					t.Errorf("%s: QcOk is %v", what, got)
-				}
-				checkQcSame(t, held.given, other.given, writtenQcSame(q, oneQc()))
-				checkQcSame(t, held.given, held.given, true)
-				held.check(t, what)
-				other.check(t, what)
-			}
-		}
-	}
+	qcCodec.checkQuestionsPure(t, oneQc(), append(oddQcs(), oneQc(), qcWith(0)))
 }
 
 func TestQcVotesPure(t *testing.T) {
@@ -298,7 +220,7 @@ func TestQcFromVotesOfSharedMemory(t *testing.T) {
 	checkHash(t, "the memory", all, before)
 	q, _ = impl.QcFrom(limitsFor(4), list)
 	overwriteBytes(all)
-	checkQcSame(t, q, want, true)
+	qcCodec.checkSame(t, q, want, true)
 	if !sameVotes(votes, writtenQcVotes(want)) {
 		t.Errorf("QcVotes of shared memory: %+v", votes)
 	}
@@ -309,20 +231,17 @@ func TestQcFromVotesOfSharedMemory(t *testing.T) {
 func TestQcResultsAreNew(t *testing.T) {
 	l, q := limitsFor(4), oneQc()
 	b, list := rawQc(q), impl.QcVotes(q)
-	first, _, _ := impl.GetQc(l, b, 0)
-	second, _, _ := impl.GetQc(l, b, 0)
+	qcCodec.checkGetNew(t, l, q)
+	first, _ := impl.QcFrom(l, list)
+	second, _ := impl.QcFrom(l, list)
 	overwriteQc(first)
-	checkQcSame(t, second, oneQc(), true)
-	first, _ = impl.QcFrom(l, list)
-	second, _ = impl.QcFrom(l, list)
-	overwriteQc(first)
-	checkQcSame(t, second, oneQc(), true)
+	qcCodec.checkSame(t, second, oneQc(), true)
 	again := impl.QcVotes(q)
 	overwriteVotes(list)
 	if !sameVotes(again, writtenQcVotes(oneQc())) {
 		t.Errorf("QcVotes, the first result overwritten: %+v", again)
 	}
-	checkQcAt(t, l, b, 0, oneQc(), len(b), impl.ErOk)
+	qcCodec.checkAt(t, l, b, 0, oneQc(), len(b), impl.ErOk)
 	checkVotes(t, q)
 }
 
@@ -350,16 +269,16 @@ func TestQcsOfExtremes(t *testing.T) {
 		for j, m := range extremes {
 			q := impl.Qc{View: n, Height: m, Block: goHash(1), Bits: []byte{byte(i % 3)}, Tags: lists[j%3]}
 			for _, l := range []impl.Limits{limitsFor(8), {N: n, Tx: m, Txs: n, Frame: m, Heads: n}, limitsFor(m)} {
-				checkQcOk(t, l, nil, q, writtenQcOk(l, q))
-				checkQcSame(t, q, cloneQc(q), true)
+				qcCodec.checkOk(t, l, nil, q, writtenQcOk(l, q))
+				qcCodec.checkSame(t, q, cloneQc(q), true)
 				checkVotes(t, q)
 				checkFromVotes(t, l, writtenQcVotes(q))
 			}
 		}
 		for _, b := range pureQcInputs() {
 			for _, l := range append(wrongLimits(), limitsFor(10), limitsFor(n)) {
-				checkQcInput(t, l, b, n)
-				checkQcInput(t, l, b, len(b)+n)
+				qcCodec.checkInput(t, l, b, n)
+				qcCodec.checkInput(t, l, b, len(b)+n)
 			}
 		}
 	}
@@ -378,9 +297,9 @@ func TestQcsKeepNoState(t *testing.T) {
 		impl.QcVotes(qcWith(b...))
 		impl.QcFrom(limitsFor(i), votesBy(i, i))
 		impl.QcFrom(l, votesBy(i))
-		checkQcOk(t, l, nil, q, true)
-		checkQcAt(t, l, rawQc(q), 0, q, len(rawQc(q)), impl.ErOk)
-		checkNoQcAt(t, l, rawQc(q)[:50], 0, impl.ErShort)
+		qcCodec.checkOk(t, l, nil, q, true)
+		qcCodec.checkAt(t, l, rawQc(q), 0, q, len(rawQc(q)), impl.ErOk)
+		qcCodec.checkNoneAt(t, l, rawQc(q)[:50], 0, impl.ErShort)
 		checkThereAndBack(t, l, q)
 	}
 }
@@ -391,8 +310,8 @@ func TestQcsAtTheSameTime(t *testing.T) {
 	for n := 1; n <= impl.MaxSigners; n++ {
 		group.Go(func() {
 			for _, q := range someQcs(n) {
-				checkQcOk(t, limitsFor(n), all, q, true)
-				checkQcAt(t, limitsFor(n), rawQc(q), 0, q, len(rawQc(q)), impl.ErOk)
+				qcCodec.checkOk(t, limitsFor(n), all, q, true)
+				qcCodec.checkAt(t, limitsFor(n), rawQc(q), 0, q, len(rawQc(q)), impl.ErOk)
 				checkVotes(t, q)
 			}
 			checkThereAndBack(t, limitsFor(4), q)

@@ -2,7 +2,6 @@ package tests
 
 import (
 	"bytes"
-	"fmt"
 	"math"
 	"slices"
 	"testing"
@@ -150,47 +149,10 @@ func writtenGetQc(l impl.Limits, b []byte, at int) (impl.Qc, int, int) {
 	return q, next, impl.ErOk
 }
 
-// checkQcOk compares QcOk and PutQc behind b with what is wanted.
-func checkQcOk(t *testing.T, l impl.Limits, b []byte, q impl.Qc, want bool) {
-	t.Helper()
-	if got := impl.QcOk(l, q); got != want {
-		t.Errorf("QcOk(%+v, %+v) = %v", l, q, got)
-	}
-	var bytesWanted []byte
-	if want {
-		bytesWanted = slices.Concat(b, rawQc(q))
-	}
-	got, ok := impl.PutQc(l, b, q)
-	checkPut(t, fmt.Sprintf("PutQc(%+v, %v, %+v)", l, b, q), got, ok, bytesWanted)
-}
-
-// checkQcSame asks in both directions.
-func checkQcSame(t *testing.T, a, b impl.Qc, want bool) {
-	t.Helper()
-	if impl.QcSame(a, b) != want || impl.QcSame(b, a) != want {
-		t.Errorf("QcSame of %+v and %+v: %v and %v", a, b, impl.QcSame(a, b), impl.QcSame(b, a))
-	}
-}
-
-// checkQcAt reports what GetQc returns if it is not as wanted.
-func checkQcAt(t *testing.T, l impl.Limits, b []byte, at int, want impl.Qc, wantNext, wantEr int) {
-	t.Helper()
-	q, next, er := impl.GetQc(l, b, at)
-	if !writtenQcSame(q, want) || next != wantNext || er != wantEr {
-		t.Errorf("GetQc(%+v, %v, %d): %+v, %d, %d instead of %+v, %d, %d", l, b, at, q, next, er, want, wantNext, wantEr)
-	}
-}
-
-func checkNoQcAt(t *testing.T, l impl.Limits, b []byte, at int, code int) {
-	t.Helper()
-	checkQcAt(t, l, b, at, impl.Qc{}, 0, code)
-}
-
-// checkQcInput compares GetQc with the chapter.
-func checkQcInput(t *testing.T, l impl.Limits, b []byte, at int) {
-	t.Helper()
-	q, next, er := writtenGetQc(l, b, at)
-	checkQcAt(t, l, b, at, q, next, er)
+var qcCodec = codec[impl.Qc]{
+	name: "Qc", ok: impl.QcOk, same: impl.QcSame, put: impl.PutQc, get: impl.GetQc,
+	writtenOk: writtenQcOk, writtenSame: writtenQcSame, writtenGet: writtenGetQc, raw: rawQc,
+	others: otherQcs, clone: cloneQc, hold: holdQc, parts: partsOfQc, ruin: overwriteQc,
 }
 
 func TestQcKnown(t *testing.T) {
@@ -211,14 +173,7 @@ func TestQcKnown(t *testing.T) {
 		{10, impl.Qc{Block: block, Bits: []byte{0, 0}, Tags: [][]byte{}}, slices.Concat([]byte{0, 0}, block, []byte{0, 0})},
 	}
 	for _, c := range cases {
-		l := limitsFor(c.n)
-		checkQcOk(t, l, nil, c.q, true)
-		got, ok := impl.PutQc(l, nil, c.q)
-		checkPut(t, "a known certificate", got, ok, c.want)
-		got, ok = impl.PutQc(l, []byte{128, 0}, c.q)
-		checkPut(t, "a known certificate behind two bytes", got, ok, slices.Concat([]byte{128, 0}, c.want))
-		checkQcAt(t, l, c.want, 0, c.q, len(c.want), impl.ErOk)
-		checkQcAt(t, l, slices.Concat([]byte{128, 0}, c.want, []byte{128}), 2, c.q, 2+len(c.want), impl.ErOk)
+		qcCodec.checkKnown(t, limitsFor(c.n), c.q, c.want)
 	}
 }
 
@@ -226,14 +181,10 @@ func TestQcKnown(t *testing.T) {
 func TestQcsOfEverySize(t *testing.T) {
 	for n := 1; n <= impl.MaxSigners; n++ {
 		for set := range 1 << n {
-			q := qcOfSet(set, n)
-			checkQcOk(t, limitsFor(n), nil, q, true)
-			checkQcAt(t, limitsFor(n), rawQc(q), 0, q, len(rawQc(q)), impl.ErOk)
+			qcCodec.checkValid(t, limitsFor(n), qcOfSet(set, n))
 		}
 		for _, q := range someQcs(n) {
-			checkQcOk(t, limitsFor(n), nil, q, true)
-			checkQcOk(t, limitsFor(n), []byte{0, 255, 128}, q, true)
-			checkQcInput(t, limitsFor(n), rawQc(q), 0)
+			qcCodec.checkValid(t, limitsFor(n), q)
 		}
 	}
 }
@@ -245,19 +196,19 @@ func TestQcNumbers(t *testing.T) {
 		for _, q := range []impl.Qc{oneQc(), qcWith(0)} {
 			for _, n := range edgeNumbers() {
 				*in(&q) = n
-				checkQcOk(t, l, nil, q, true)
-				checkQcOk(t, l, []byte{5}, q, true)
-				checkQcAt(t, l, rawQc(q), 0, q, len(rawQc(q)), impl.ErOk)
+				qcCodec.checkOk(t, l, nil, q, true)
+				qcCodec.checkOk(t, l, []byte{5}, q, true)
+				qcCodec.checkAt(t, l, rawQc(q), 0, q, len(rawQc(q)), impl.ErOk)
 			}
 			for _, n := range append(notNumbers, extremes...) {
 				*in(&q) = n
-				checkQcOk(t, l, nil, q, writtenQcOk(l, q))
-				checkQcOk(t, l, []byte{5}, q, writtenQcOk(l, q))
+				qcCodec.checkOk(t, l, nil, q, writtenQcOk(l, q))
+				qcCodec.checkOk(t, l, []byte{5}, q, writtenQcOk(l, q))
 			}
 			for _, n := range notNumbers {
 				*in(&q) = n
-				checkQcOk(t, l, nil, q, false)
-				checkNoQcAt(t, l, rawQc(q), 0, impl.ErVar)
+				qcCodec.checkOk(t, l, nil, q, false)
+				qcCodec.checkNoneAt(t, l, rawQc(q), 0, impl.ErVar)
 			}
 		}
 	}
@@ -267,12 +218,12 @@ func TestQcBlocks(t *testing.T) {
 	l, q := limitsFor(4), oneQc()
 	for size := range 100 {
 		q.Block = mixedBytes(size, size)
-		checkQcOk(t, l, nil, q, size == 32)
-		checkQcOk(t, l, []byte{5}, q, size == 32)
+		qcCodec.checkOk(t, l, nil, q, size == 32)
+		qcCodec.checkOk(t, l, []byte{5}, q, size == 32)
 	}
 	for _, x := range notHashes() {
 		q.Block = x
-		checkQcOk(t, l, nil, q, false)
+		qcCodec.checkOk(t, l, nil, q, false)
 	}
 }
 
@@ -281,12 +232,12 @@ func TestQcBits(t *testing.T) {
 	for n := range 13 {
 		l := limitsFor(n)
 		for _, bits := range [][]byte{nil, {}, {0, 0, 0}, {1, 0, 0}, {0, 0, 1}, {255, 3, 0}, filled(100, 0)} {
-			checkQcOk(t, l, nil, qcWith(bits...), false)
+			qcCodec.checkOk(t, l, nil, qcWith(bits...), false)
 		}
 		for c := range 256 {
 			q := qcWith(byte(c))
-			checkQcOk(t, l, nil, q, n >= 1 && n <= 8 && c < 1<<n)
-			checkQcInput(t, l, rawQc(q), 0)
+			qcCodec.checkOk(t, l, nil, q, n >= 1 && n <= 8 && c < 1<<n)
+			qcCodec.checkInput(t, l, rawQc(q), 0)
 		}
 		for c := range 1 << 16 {
 			q := impl.Qc{Block: filled(32, 7), Bits: bitmapOf(c, 16)}
@@ -307,11 +258,11 @@ func TestQcTags(t *testing.T) {
 			count := len(q.Tags)
 			for size := range count + 3 {
 				q.Tags = tagsFor(size)
-				checkQcOk(t, limitsFor(n), nil, q, size == count)
+				qcCodec.checkOk(t, limitsFor(n), nil, q, size == count)
 			}
 			for _, tags := range [][][]byte{nil, {}} {
 				q.Tags = tags
-				checkQcOk(t, limitsFor(n), nil, q, count == 0)
+				qcCodec.checkOk(t, limitsFor(n), nil, q, count == 0)
 			}
 		}
 	}
@@ -326,13 +277,13 @@ func TestQcTagSizes(t *testing.T) {
 			for _, tag := range wrong {
 				q := cloneQc(whole)
 				q.Tags[at] = tag
-				checkQcOk(t, limitsFor(n), nil, q, false)
-				checkQcOk(t, limitsFor(n), []byte{5}, q, false)
+				qcCodec.checkOk(t, limitsFor(n), nil, q, false)
+				qcCodec.checkOk(t, limitsFor(n), []byte{5}, q, false)
 			}
 			// The tags have the right number of bytes together.
 			q := cloneQc(whole)
 			q.Tags[at], q.Tags[(at+1)%n] = filled(31, 1), filled(33, 2)
-			checkQcOk(t, limitsFor(n), nil, q, false)
+			qcCodec.checkOk(t, limitsFor(n), nil, q, false)
 		}
 	}
 }
@@ -349,7 +300,7 @@ func TestQcParts(t *testing.T) {
 					for _, bits := range [][]byte{nil, {0}, {1}, {2}, {3}, {4}, {0, 0}, {1, 1}, {0, 2}} {
 						for _, tags := range lists {
 							q := impl.Qc{View: view, Height: height, Block: block, Bits: bits, Tags: tags}
-							checkQcOk(t, l, nil, q, writtenQcOk(l, q))
+							qcCodec.checkOk(t, l, nil, q, writtenQcOk(l, q))
 						}
 					}
 				}
@@ -358,52 +309,21 @@ func TestQcParts(t *testing.T) {
 	}
 }
 
-// Only the number of validators matters, but the other limits must be valid too.
 func TestQcLimits(t *testing.T) {
 	for _, base := range append(someLimits, limitsFor(4)) {
-		q := qcOfSet(1, base.N)
-		checkQcOk(t, base, nil, q, true)
-		checkQcAt(t, base, rawQc(q), 0, q, len(rawQc(q)), impl.ErOk)
-		for _, f := range limitFields {
-			for _, n := range f.edges() {
-				l := f.with(base, n)
-				checkQcOk(t, l, nil, q, writtenQcOk(l, q))
-				if f.name != "N" {
-					checkQcOk(t, l, nil, q, n >= f.least && n <= f.most)
-				}
-				checkQcInput(t, l, rawQc(q), 0)
-			}
-		}
+		qcCodec.checkLimits(t, base, qcOfSet(1, base.N))
 	}
-	checkQcOk(t, impl.Limits{}, nil, impl.Qc{}, false)
-	checkQcOk(t, limitsFor(4), nil, impl.Qc{}, false)
+	qcCodec.checkOk(t, impl.Limits{}, nil, impl.Qc{}, false)
+	qcCodec.checkOk(t, limitsFor(4), nil, impl.Qc{}, false)
 }
 
-// Limits that are not valid come before all that is wrong with the bytes or the offset.
 func TestQcOfWrongLimits(t *testing.T) {
 	inputs := [][]byte{nil, {}, {0}, {128}, {128, 0}, rawQc(oneQc()), rawQc(oneQc())[:20], rawQc(qcWith(255)), filled(200, 255), filled(200, 0)}
-	for _, l := range wrongLimits() {
-		for _, b := range inputs {
-			for _, at := range append(extremes, len(b)-1, len(b), len(b)+1) {
-				checkNoQcAt(t, l, b, at, impl.ErValue)
-			}
-			checkQcOk(t, l, b, oneQc(), false)
-			checkQcOk(t, l, b, qcWith(0), false)
-			checkQcOk(t, l, b, impl.Qc{}, false)
-		}
-	}
+	qcCodec.checkWrongLimits(t, inputs, oneQc(), qcWith(0), impl.Qc{})
 }
 
 func TestQcOffsets(t *testing.T) {
-	l := limitsFor(4)
-	for _, b := range [][]byte{nil, {}, {0}, rawQc(oneQc()), rawQc(qcWith(0)), filled(300, 1), filled(300, 128)} {
-		for at := -5; at < len(b)+5; at++ {
-			checkQcInput(t, l, b, at)
-		}
-		for _, at := range []int{math.MinInt, math.MinInt + 1, -256, -2, -1, len(b), len(b) + 1, len(b) + 256, math.MaxInt - 1, math.MaxInt} {
-			checkNoQcAt(t, l, b, at, impl.ErShort)
-		}
-	}
+	qcCodec.checkOffsets(t, limitsFor(4), rawQc(oneQc()), rawQc(qcWith(0)), filled(300, 1), filled(300, 128))
 }
 
 // changedLists are lists that differ from l in one element, in the order of two
@@ -434,21 +354,7 @@ func changedLists(l [][]byte) [][][]byte {
 // otherQcs are certificates that differ from q in one part: in its value, in one
 // byte, in one tag, in the order of two tags, or in its length.
 func otherQcs(q impl.Qc) []impl.Qc {
-	var list []impl.Qc
-	for _, in := range qcNumbers {
-		for _, n := range changedNumbers(*in(&q)) {
-			other := cloneQc(q)
-			*in(&other) = n
-			list = append(list, other)
-		}
-	}
-	for _, in := range qcBytes {
-		for _, x := range changedBytes(*in(&q)) {
-			other := cloneQc(q)
-			*in(&other) = x
-			list = append(list, other)
-		}
-	}
+	list := changedFields(q, cloneQc, qcNumbers, qcBytes)
 	for _, tags := range changedLists(q.Tags) {
 		other := cloneQc(q)
 		other.Tags = tags
@@ -460,11 +366,7 @@ func otherQcs(q impl.Qc) []impl.Qc {
 func TestQcSameOfOneDifference(t *testing.T) {
 	odd := []impl.Qc{{}, {View: -7, Height: math.MinInt, Block: []byte{1}, Bits: filled(20, 255)}, {Tags: [][]byte{nil, {}, {5}, goHash(1)}}}
 	for _, q := range slices.Concat(odd, []impl.Qc{oneQc(), qcWith(0), qcWith(255, 3), qcWith(1, 2)}) {
-		checkQcSame(t, q, q, true)
-		checkQcSame(t, q, cloneQc(q), true)
-		for _, other := range otherQcs(q) {
-			checkQcSame(t, q, other, false)
-		}
+		qcCodec.checkDifferences(t, q)
 	}
 }
 
@@ -483,13 +385,7 @@ func TestQcSameOfSmallQcs(t *testing.T) {
 			}
 		}
 	}
-	for _, a := range list {
-		for _, b := range list {
-			if got := impl.QcSame(a, b); got != writtenQcSame(a, b) {
-				t.Errorf("QcSame(%+v, %+v) = %v", a, b, got)
-			}
-		}
-	}
+	qcCodec.checkEachPair(t, list)
 }
 
 func TestQcOfNil(t *testing.T) {
@@ -497,25 +393,25 @@ func TestQcOfNil(t *testing.T) {
 	for _, b := range [][]byte{nil, {}} {
 		got, ok := impl.PutQc(l, b, q)
 		checkPut(t, "PutQc behind nothing", got, ok, rawQc(q))
-		checkNoQcAt(t, l, b, 0, impl.ErShort)
+		qcCodec.checkNoneAt(t, l, b, 0, impl.ErShort)
 	}
 	none := qcWith(0)
 	for _, tags := range [][][]byte{nil, {}} {
 		none.Tags = tags
-		checkQcOk(t, l, nil, none, true)
-		checkQcAt(t, l, rawQc(none), 0, none, 36, impl.ErOk)
+		qcCodec.checkOk(t, l, nil, none, true)
+		qcCodec.checkAt(t, l, rawQc(none), 0, none, 36, impl.ErOk)
 	}
 	for _, x := range [][]byte{nil, {}} {
 		for _, y := range [][]byte{nil, {}} {
 			for _, tags := range [][][]byte{nil, {}} {
-				checkQcSame(t, impl.Qc{Block: x, Bits: y}, impl.Qc{Block: y, Bits: x, Tags: tags}, true)
-				checkQcSame(t, impl.Qc{Block: x, Bits: y, Tags: tags}, impl.Qc{}, true)
-				checkQcSame(t, impl.Qc{Tags: [][]byte{x, goHash(1)}}, impl.Qc{Tags: [][]byte{y, goHash(1)}}, true)
-				checkQcSame(t, impl.Qc{Tags: [][]byte{x}}, impl.Qc{Tags: tags}, false)
-				checkQcSame(t, impl.Qc{Block: x}, impl.Qc{Block: []byte{0}}, false)
-				checkQcSame(t, impl.Qc{Bits: x}, impl.Qc{Bits: []byte{0}}, false)
-				checkQcOk(t, l, nil, impl.Qc{Block: x, Bits: y, Tags: tags}, false)
-				checkQcOk(t, l, nil, impl.Qc{Block: goHash(1), Bits: y, Tags: tags}, false)
+				qcCodec.checkSame(t, impl.Qc{Block: x, Bits: y}, impl.Qc{Block: y, Bits: x, Tags: tags}, true)
+				qcCodec.checkSame(t, impl.Qc{Block: x, Bits: y, Tags: tags}, impl.Qc{}, true)
+				qcCodec.checkSame(t, impl.Qc{Tags: [][]byte{x, goHash(1)}}, impl.Qc{Tags: [][]byte{y, goHash(1)}}, true)
+				qcCodec.checkSame(t, impl.Qc{Tags: [][]byte{x}}, impl.Qc{Tags: tags}, false)
+				qcCodec.checkSame(t, impl.Qc{Block: x}, impl.Qc{Block: []byte{0}}, false)
+				qcCodec.checkSame(t, impl.Qc{Bits: x}, impl.Qc{Bits: []byte{0}}, false)
+				qcCodec.checkOk(t, l, nil, impl.Qc{Block: x, Bits: y, Tags: tags}, false)
+				qcCodec.checkOk(t, l, nil, impl.Qc{Block: goHash(1), Bits: y, Tags: tags}, false)
 			}
 		}
 	}
