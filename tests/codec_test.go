@@ -263,6 +263,22 @@ func (c codec[T]) checkCut(t *testing.T, l impl.Limits, x T) {
 	}
 }
 
+// checkCodeFrom cuts b everywhere: what ends ahead of the place is too short,
+// and what contains it has the code, also with more bytes behind.
+func (c codec[T]) checkCodeFrom(t *testing.T, l impl.Limits, b []byte, place int, code int) {
+	t.Helper()
+	for end := range len(b) + 1 {
+		want := code
+		if end < place {
+			want = impl.ErShort
+		}
+		c.checkNoneAt(t, l, b[:end], 0, want)
+		c.checkNoneAt(t, l, append([]byte{128, 0}, b[:end]...), 2, want)
+	}
+	c.checkNoneAt(t, l, append(bytes.Clone(b), 1, 2, 3), 0, code)
+	c.checkNoneAt(t, l, append(bytes.Clone(b[:place]), filled(300, 255)...), 0, code)
+}
+
 // A partsCase is an input, and the code of its first error.
 type partsCase struct {
 	parts [][]byte
@@ -401,6 +417,19 @@ func (c codec[T]) checkGetPure(t *testing.T, inputs [][]byte) {
 					t.Errorf("%s: %+v, %d and then %+v, %d", what, want, er, second, erAgain)
 				}
 				checkElementsApart(t, what, c.parts(second))
+			}
+		}
+	}
+}
+
+// checkExtremes reads at offsets of all sizes, and with as many validators.
+func (c codec[T]) checkExtremes(t *testing.T, inputs [][]byte) {
+	t.Helper()
+	for _, n := range extremes {
+		for _, l := range append(wrongLimits(), limitsFor(10), limitsFor(n)) {
+			for _, b := range inputs {
+				c.checkInput(t, l, b, n)
+				c.checkInput(t, l, b, len(b)+n)
 			}
 		}
 	}

@@ -104,13 +104,8 @@ func TestVotesOfExtremes(t *testing.T) {
 				}
 			}
 		}
-		for _, b := range pureInputs() {
-			for _, l := range append(wrongLimits(), limitsFor(10), limitsFor(n)) {
-				voteCodec.checkInput(t, l, b, n)
-				voteCodec.checkInput(t, l, b, len(b)+n)
-			}
-		}
 	}
+	voteCodec.checkExtremes(t, pureInputs())
 }
 
 // A call in between, also a refused one, leaves nothing behind.

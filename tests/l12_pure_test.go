@@ -275,13 +275,8 @@ func TestQcsOfExtremes(t *testing.T) {
 				checkFromVotes(t, l, writtenQcVotes(q))
 			}
 		}
-		for _, b := range pureQcInputs() {
-			for _, l := range append(wrongLimits(), limitsFor(10), limitsFor(n)) {
-				qcCodec.checkInput(t, l, b, n)
-				qcCodec.checkInput(t, l, b, len(b)+n)
-			}
-		}
 	}
+	qcCodec.checkExtremes(t, pureQcInputs())
 }
 
 // A call in between, also a refused one, leaves nothing behind.

@@ -196,13 +196,8 @@ func TestHeadsOfExtremes(t *testing.T) {
 				}
 			}
 		}
-		for _, b := range pureHeadInputs() {
-			for _, l := range append(wrongLimits(), limitsFor(10), limitsFor(n)) {
-				headCodec.checkInput(t, l, b, n)
-				headCodec.checkInput(t, l, b, len(b)+n)
-			}
-		}
 	}
+	headCodec.checkExtremes(t, pureHeadInputs())
 }
 
 // A call in between, also a refused one, leaves nothing behind.

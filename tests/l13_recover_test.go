@@ -1,7 +1,6 @@
 package tests
 
 import (
-	"bytes"
 	"slices"
 	"testing"
 
@@ -70,29 +69,13 @@ func TestWrongNumbersOfHeads(t *testing.T) {
 	})
 }
 
-// checkCodeFrom cuts b everywhere: what ends ahead of the place is too short,
-// and what contains it has the code, also with more bytes behind.
-func checkCodeFrom(t *testing.T, l impl.Limits, b []byte, place int, code int) {
-	t.Helper()
-	for end := range len(b) + 1 {
-		want := code
-		if end < place {
-			want = impl.ErShort
-		}
-		headCodec.checkNoneAt(t, l, b[:end], 0, want)
-		headCodec.checkNoneAt(t, l, append([]byte{128, 0}, b[:end]...), 2, want)
-	}
-	headCodec.checkNoneAt(t, l, append(bytes.Clone(b), 1, 2, 3), 0, code)
-	headCodec.checkNoneAt(t, l, append(bytes.Clone(b[:place]), filled(300, 255)...), 0, code)
-}
-
 // Height 0 is found before anything behind it is read.
 func TestHeightsZeroOfHeads(t *testing.T) {
 	for n := 1; n <= impl.MaxSigners; n++ {
 		for _, h := range []impl.Head{headOfSet(0, n), headOfSet(1<<n-1, n)} {
 			for _, h.Qc.Height = range []int{0, 2, impl.MaxNum} {
 				h.Height = 0
-				checkCodeFrom(t, limitsFor(n), rawHead(h), len(varint(h.View))+1, impl.ErValue)
+				headCodec.checkCodeFrom(t, limitsFor(n), rawHead(h), len(varint(h.View))+1, impl.ErValue)
 			}
 		}
 	}
@@ -104,7 +87,7 @@ func TestWrongProposersOfHeads(t *testing.T) {
 		h := headOfSet(1, n)
 		for _, h.Proposer = range []int{n, n + 1, n + 100, 127, 128, 255, 256, 16384, 1<<32 + n - 1, 1 << 56, impl.MaxNum} {
 			place := len(slices.Concat(partsOfRawHead(h)[:3]...))
-			checkCodeFrom(t, limitsFor(n), rawHead(h), place, impl.ErValue)
+			headCodec.checkCodeFrom(t, limitsFor(n), rawHead(h), place, impl.ErValue)
 		}
 	}
 }
@@ -116,10 +99,10 @@ func TestWrongBitsOfHeads(t *testing.T) {
 		for _, bits := range paddedBits(n) {
 			h := headWith(bits...)
 			place := len(rawHead(h)) - 32*len(h.Qc.Tags)
-			checkCodeFrom(t, limitsFor(n), rawHead(h), place, impl.ErPad)
+			headCodec.checkCodeFrom(t, limitsFor(n), rawHead(h), place, impl.ErPad)
 			h.Qc.View, h.Qc.Height, h.Qc.Block = h.View, h.Height, h.Root
 			place = len(rawHead(h)) - 32*len(h.Qc.Tags)
-			checkCodeFrom(t, limitsFor(n), rawHead(h), place, impl.ErPad)
+			headCodec.checkCodeFrom(t, limitsFor(n), rawHead(h), place, impl.ErPad)
 		}
 	}
 }
@@ -139,7 +122,7 @@ func TestMismatchesOfHeads(t *testing.T) {
 				if ways&4 > 0 {
 					h.Parent = h.Root
 				}
-				checkCodeFrom(t, limitsFor(n), rawHead(h), len(rawHead(h)), impl.ErOrder)
+				headCodec.checkCodeFrom(t, limitsFor(n), rawHead(h), len(rawHead(h)), impl.ErOrder)
 			}
 		}
 	}
