@@ -38,6 +38,54 @@ type held[T any] struct {
 	check func(t *testing.T, what string) // reports a change of the value or of the capacity
 }
 
+// holdAll holds a list of values; spare ones stand in the capacity behind it.
+func (c codec[T]) holdAll(list []T, spare T) held[[]T] {
+	var given []T
+	var all []held[T]
+	for _, x := range append(slices.Clone(list), slices.Repeat([]T{spare}, spareSize)...) {
+		h := c.hold(x)
+		given, all = append(given, h.given), append(all, h)
+	}
+	return held[[]T]{given[:len(list)], func(t *testing.T, what string) {
+		t.Helper()
+		for i, x := range given {
+			if !slices.EqualFunc(c.parts(x), c.parts(all[i].given), samePlace) || !c.writtenSame(x, all[i].given) {
+				t.Errorf("%s: element %d of %d became %+v", what, i, len(list), x)
+				continue
+			}
+			all[i].check(t, fmt.Sprintf("%s, element %d", what, i))
+		}
+	}}
+}
+
+// ruinAll also overwrites the capacity behind the list.
+func (c codec[T]) ruinAll(list []T, scribbled T) {
+	all := list[:cap(list)]
+	for i := range all {
+		c.ruin(all[i])
+		all[i] = scribbled
+	}
+}
+
+func (c codec[T]) cloneAll(list []T) []T {
+	var out []T
+	for _, x := range list {
+		out = append(out, c.clone(x))
+	}
+	return out
+}
+
+func (c codec[T]) sameAll(a, b []T) bool { return slices.EqualFunc(a, b, c.writtenSame) }
+
+// partsOfAll are all byte strings of a list.
+func (c codec[T]) partsOfAll(list []T) [][]byte {
+	var parts [][]byte
+	for _, x := range list {
+		parts = append(parts, c.parts(x)...)
+	}
+	return parts
+}
+
 // fieldsOf are the fields of x of one kind, in the order of their names.
 func fieldsOf[T, F any](fields map[string]func(x *T) *F) []func(x *T) *F {
 	var list []func(x *T) *F

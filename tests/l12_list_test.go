@@ -11,16 +11,6 @@ import (
 
 // P12 for chapter 13: QcVotes and QcFrom return what the chapter specifies.
 
-func cloneVotes(list []impl.Vote) []impl.Vote {
-	var out []impl.Vote
-	for _, v := range list {
-		out = append(out, cloneVote(v))
-	}
-	return out
-}
-
-func sameVotes(a, b []impl.Vote) bool { return slices.EqualFunc(a, b, writtenVoteSame) }
-
 // votesBy returns votes of these signers that agree in all but their tags.
 func votesBy(signers ...int) []impl.Vote {
 	var list []impl.Vote
@@ -71,7 +61,7 @@ func writtenQcFrom(l impl.Limits, list []impl.Vote) (impl.Qc, bool) {
 // checkVotes compares QcVotes with the chapter.
 func checkVotes(t *testing.T, q impl.Qc) {
 	t.Helper()
-	if got, want := impl.QcVotes(q), writtenQcVotes(q); !sameVotes(got, want) {
+	if got, want := impl.QcVotes(q), writtenQcVotes(q); !voteCodec.sameAll(got, want) {
 		t.Errorf("QcVotes(%+v) = %+v instead of %+v", q, got, want)
 	}
 }
@@ -116,7 +106,7 @@ func TestKnownVotesOfQc(t *testing.T) {
 		{9, impl.Qc{View: 1, Height: 1, Block: first, Bits: []byte{0, 1}, Tags: [][]byte{second}}, []impl.Vote{{View: 1, Height: 1, Block: first, Who: 8, Tag: second}}},
 	}
 	for _, c := range cases {
-		if got := impl.QcVotes(c.q); !sameVotes(got, c.list) {
+		if got := impl.QcVotes(c.q); !voteCodec.sameAll(got, c.list) {
 			t.Errorf("QcVotes(%+v) = %+v", c.q, got)
 		}
 		checkFrom(t, limitsFor(c.n), c.list, c.q, true)
@@ -264,7 +254,7 @@ func TestQcFromOtherVotes(t *testing.T) {
 	}
 	pair := votesBy(0, 3)
 	for name, in := range voteNumbers {
-		list := cloneVotes(pair)
+		list := voteCodec.cloneAll(pair)
 		*in(&list[1])++
 		checkNoQcFrom(t, l, list)
 		if name != "Who" {
@@ -272,7 +262,7 @@ func TestQcFromOtherVotes(t *testing.T) {
 			checkFromVotes(t, l, list)
 		}
 	}
-	list := cloneVotes(pair)
+	list := voteCodec.cloneAll(pair)
 	list[1].Block[31]++
 	checkNoQcFrom(t, l, list)
 }
@@ -283,7 +273,7 @@ func TestQcFromVotesThatAreNotValid(t *testing.T) {
 		whole := votesBy(signersIn(1<<n - 1)...)
 		for _, in := range voteHashes {
 			for _, x := range notHashes() {
-				list := cloneVotes(whole)
+				list := voteCodec.cloneAll(whole)
 				for i := range list {
 					*in(&list[i]) = x
 				}
@@ -292,7 +282,7 @@ func TestQcFromVotesThatAreNotValid(t *testing.T) {
 		}
 		for _, name := range []string{"View", "Height"} {
 			for _, number := range notNumbers {
-				list := cloneVotes(whole)
+				list := voteCodec.cloneAll(whole)
 				for i := range list {
 					*voteNumbers[name](&list[i]) = number
 				}
@@ -301,7 +291,7 @@ func TestQcFromVotesThatAreNotValid(t *testing.T) {
 		}
 		for _, x := range notHashes() {
 			for at := range whole {
-				list := cloneVotes(whole)
+				list := voteCodec.cloneAll(whole)
 				list[at].Tag = x
 				checkNoQcFrom(t, limitsFor(n), list)
 			}

@@ -32,56 +32,18 @@ func overwriteQc(q impl.Qc) {
 	overwriteList(q.Tags)
 }
 
-// A heldVotes is a list of votes as it was given to a function.
-type heldVotes struct {
-	given []impl.Vote // with spare capacity, and so has each Block and each Tag
-	all   []impl.Vote // the votes of given and those in its spare capacity
-	want  []impl.Vote
-}
-
-func holdVotes(list []impl.Vote) heldVotes {
-	var all []impl.Vote
-	spare := impl.Vote{View: -spareByte, Height: -spareByte, Block: []byte{spareByte}, Who: -spareByte, Tag: []byte{spareByte}}
-	for _, v := range append(slices.Clone(list), slices.Repeat([]impl.Vote{spare}, spareSize)...) {
-		v.Block, v.Tag = roomy(v.Block), roomy(v.Tag)
-		all = append(all, v)
-	}
-	return heldVotes{slices.Clone(all)[:len(list)], all, cloneVotes(append(slices.Clone(list), slices.Repeat([]impl.Vote{spare}, spareSize)...))}
-}
-
-// check reports a change of the list, of its votes, or of the capacity behind both.
-func (h heldVotes) check(t *testing.T, what string) {
-	t.Helper()
-	for i, v := range h.given[:len(h.all)] {
-		if !samePlace(v.Block, h.all[i].Block) || !samePlace(v.Tag, h.all[i].Tag) || !writtenVoteSame(v, h.want[i]) {
-			t.Errorf("%s: vote %d of %d became %+v", what, i, len(h.given), v)
-			continue
-		}
-		checkRoomy(t, fmt.Sprintf("%s, Block of vote %d", what, i), v.Block, h.want[i].Block)
-		checkRoomy(t, fmt.Sprintf("%s, Tag of vote %d", what, i), v.Tag, h.want[i].Tag)
-	}
+// spareVote stands in the capacity behind a list of votes.
+func spareVote() impl.Vote {
+	return impl.Vote{View: -spareByte, Height: -spareByte, Block: []byte{spareByte}, Who: -spareByte, Tag: []byte{spareByte}}
 }
 
 // overwriteVotes changes a list of votes, their parts, and the capacity behind all.
 func overwriteVotes(list []impl.Vote) {
-	all := list[:cap(list)]
-	for i := range all {
-		overwriteBytes(all[i].Block)
-		overwriteBytes(all[i].Tag)
-		all[i] = impl.Vote{View: scribble, Height: scribble, Block: []byte{scribble}, Who: scribble, Tag: []byte{scribble}}
-	}
+	voteCodec.ruinAll(list, impl.Vote{View: scribble, Height: scribble, Block: []byte{scribble}, Who: scribble, Tag: []byte{scribble}})
 }
 
-// partsOfQc and partsOfVotes are all byte strings of a result.
+// partsOfQc are all byte strings of a certificate.
 func partsOfQc(q impl.Qc) [][]byte { return append([][]byte{q.Block, q.Bits}, q.Tags...) }
-
-func partsOfVotes(list []impl.Vote) [][]byte {
-	var parts [][]byte
-	for _, v := range list {
-		parts = append(parts, v.Block, v.Tag)
-	}
-	return parts
-}
 
 // oddQcs are certificates that are not valid for four validators, with as many
 // tags as set bits or not.
@@ -156,16 +118,16 @@ func TestQcVotesPure(t *testing.T) {
 		what := fmt.Sprintf("QcVotes(%+v)", q)
 		held := holdQc(q)
 		first := impl.QcVotes(held.given)
-		want := cloneVotes(first)
+		want := voteCodec.cloneAll(first)
 		held.check(t, what)
 		overwriteVotes(first)
 		held.check(t, what+", its result overwritten")
 		second := impl.QcVotes(held.given)
 		overwriteQc(held.given)
-		if !sameVotes(want, writtenQcVotes(q)) || !sameVotes(second, want) {
+		if !voteCodec.sameAll(want, writtenQcVotes(q)) || !voteCodec.sameAll(second, want) {
 			t.Errorf("%s: %+v and then %+v", what, want, second)
 		}
-		checkElementsApart(t, what, partsOfVotes(second))
+		checkElementsApart(t, what, voteCodec.partsOfAll(second))
 	}
 }
 
@@ -187,7 +149,7 @@ func TestQcFromPure(t *testing.T) {
 	for _, list := range pureVotes() {
 		for _, l := range []impl.Limits{limitsFor(4), limitsFor(10), {}} {
 			what := fmt.Sprintf("QcFrom(%v, %+v)", l, list)
-			held := holdVotes(list)
+			held := voteCodec.holdAll(list, spareVote())
 			first, ok := impl.QcFrom(l, held.given)
 			want := cloneQc(first)
 			held.check(t, what)
@@ -221,10 +183,10 @@ func TestQcFromVotesOfSharedMemory(t *testing.T) {
 	q, _ = impl.QcFrom(limitsFor(4), list)
 	overwriteBytes(all)
 	qcCodec.checkSame(t, q, want, true)
-	if !sameVotes(votes, writtenQcVotes(want)) {
+	if !voteCodec.sameAll(votes, writtenQcVotes(want)) {
 		t.Errorf("QcVotes of shared memory: %+v", votes)
 	}
-	checkElementsApart(t, "QcVotes of shared memory", partsOfVotes(votes))
+	checkElementsApart(t, "QcVotes of shared memory", voteCodec.partsOfAll(votes))
 }
 
 // A call does not keep what it returned: the next one has memory of its own.
@@ -238,7 +200,7 @@ func TestQcResultsAreNew(t *testing.T) {
 	qcCodec.checkSame(t, second, oneQc(), true)
 	again := impl.QcVotes(q)
 	overwriteVotes(list)
-	if !sameVotes(again, writtenQcVotes(oneQc())) {
+	if !voteCodec.sameAll(again, writtenQcVotes(oneQc())) {
 		t.Errorf("QcVotes, the first result overwritten: %+v", again)
 	}
 	qcCodec.checkAt(t, l, b, 0, oneQc(), len(b), impl.ErOk)
@@ -253,7 +215,7 @@ func TestQcVotesOfNil(t *testing.T) {
 			checkNoVotes(t, impl.Qc{Block: x, Bits: []byte{1}, Tags: tags})
 		}
 		got := impl.QcVotes(impl.Qc{Block: x, Bits: []byte{2}, Tags: [][]byte{x}})
-		if !sameVotes(got, []impl.Vote{{Who: 1}}) {
+		if !voteCodec.sameAll(got, []impl.Vote{{Who: 1}}) {
 			t.Errorf("QcVotes of a certificate of nil and empty parts: %+v", got)
 		}
 		checkNoQcFrom(t, limitsFor(4), []impl.Vote{{Block: x, Tag: x}})

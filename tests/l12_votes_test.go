@@ -28,7 +28,7 @@ func checkThereAndBack(t *testing.T, l impl.Limits, q impl.Qc) {
 func checkBackAndThere(t *testing.T, l impl.Limits, list []impl.Vote) {
 	t.Helper()
 	q, ok := impl.QcFrom(l, list)
-	if !ok || !writtenQcOk(l, q) || !sameVotes(impl.QcVotes(q), list) {
+	if !ok || !writtenQcOk(l, q) || !voteCodec.sameAll(impl.QcVotes(q), list) {
 		t.Errorf("%+v have the certificate %+v, %v, and it has the votes %+v", list, q, ok, impl.QcVotes(q))
 	}
 }
@@ -66,7 +66,7 @@ func TestQcAndItsVotesEncoded(t *testing.T) {
 			b, _ := impl.PutQc(l, nil, q)
 			read, _, _ := impl.GetQc(l, b, 0)
 			list := impl.QcVotes(read)
-			if !sameVotes(list, writtenQcVotes(q)) {
+			if !voteCodec.sameAll(list, writtenQcVotes(q)) {
 				t.Errorf("%+v has the votes %+v when it is read", q, list)
 			}
 			for i, v := range list {
@@ -87,7 +87,7 @@ func TestOtherQcsHaveOtherVotes(t *testing.T) {
 		list := impl.QcVotes(q)
 		for _, other := range otherQcs(q) {
 			// A longer bitmap, which is none of four signers, may still have the same ones.
-			if writtenQcOk(limitsFor(4), other) && sameVotes(impl.QcVotes(other), list) {
+			if writtenQcOk(limitsFor(4), other) && voteCodec.sameAll(impl.QcVotes(other), list) {
 				t.Errorf("%+v and %+v have the same votes", q, other)
 			}
 		}
