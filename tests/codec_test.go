@@ -86,6 +86,29 @@ func (c codec[T]) partsOfAll(list []T) [][]byte {
 	return parts
 }
 
+// changedAll are lists that differ from list in one value, in the order of two
+// values, or in their number.
+func (c codec[T]) changedAll(list []T, more T) [][]T {
+	var none T
+	lists := [][]T{append(slices.Clone(list), more), append([]T{more}, list...), append(slices.Clone(list), none)}
+	for i, x := range list {
+		lists = append(lists, slices.Delete(slices.Clone(list), i, i+1), slices.Insert(slices.Clone(list), i, x))
+		for _, other := range c.others(x) {
+			changed := slices.Clone(list)
+			changed[i] = other
+			lists = append(lists, changed)
+		}
+		for j := range i {
+			changed := slices.Clone(list)
+			changed[i], changed[j] = list[j], x
+			if !c.writtenSame(x, list[j]) {
+				lists = append(lists, changed)
+			}
+		}
+	}
+	return lists
+}
+
 // fieldsOf are the fields of x of one kind, in the order of their names.
 func fieldsOf[T, F any](fields map[string]func(x *T) *F) []func(x *T) *F {
 	var list []func(x *T) *F
@@ -254,6 +277,13 @@ func (c codec[T]) checkEachPair(t *testing.T, list []T) {
 			}
 		}
 	}
+}
+
+// withPart puts the parts of an encoding together with another one in a place,
+// and returns the offset behind that part too.
+func withPart(parts [][]byte, place int, part []byte) (whole []byte, end int) {
+	ahead := slices.Concat(slices.Concat(parts[:place]...), part)
+	return slices.Concat(ahead, slices.Concat(parts[place+1:]...)), len(ahead)
 }
 
 // surroundings stand before an encoding and behind it.

@@ -110,10 +110,13 @@ func writtenQcSame(a, b impl.Qc) bool {
 	return numbers && bytes.Equal(a.Block, b.Block) && bytes.Equal(a.Bits, b.Bits) && sameList(a.Tags, b.Tags)
 }
 
-// rawQc puts the parts of a certificate together, valid or not.
-func rawQc(q impl.Qc) []byte {
-	return slices.Concat(varint(q.View), varint(q.Height), q.Block, q.Bits, slices.Concat(q.Tags...))
+// partsOfRawQc are the encodings of all parts of a certificate; the tags are one of them.
+func partsOfRawQc(q impl.Qc) [][]byte {
+	return [][]byte{varint(q.View), varint(q.Height), q.Block, q.Bits, slices.Concat(q.Tags...)}
 }
+
+// rawQc puts the parts of a certificate together, valid or not.
+func rawQc(q impl.Qc) []byte { return slices.Concat(partsOfRawQc(q)...) }
 
 // writtenGetQc names the parts one by one, as the chapter does.
 func writtenGetQc(l impl.Limits, b []byte, at int) (impl.Qc, int, int) {

@@ -55,9 +55,8 @@ func TestCutQcs(t *testing.T) {
 }
 
 func TestWrongNumbersOfQcs(t *testing.T) {
-	l, q := limitsFor(4), qcWith(9)
-	parts := [][]byte{varint(q.View), varint(q.Height), q.Block, q.Bits, slices.Concat(q.Tags...)}
-	eachWrongNumber(parts, []int{0, 1}, func(b []byte, code int) {
+	l := limitsFor(4)
+	eachWrongNumber(partsOfRawQc(qcWith(9)), []int{0, 1}, func(b []byte, code int) {
 		t.Helper()
 		qcCodec.checkNoneAt(t, l, b, 0, code)
 	})

@@ -81,11 +81,8 @@ func writtenHeadSame(a, b impl.Head) bool {
 // partsOfRawHead are the encodings of all parts of a header, those of its
 // certificate among them.
 func partsOfRawHead(h impl.Head) [][]byte {
-	q := h.Qc
-	return [][]byte{
-		varint(h.View), varint(h.Height), varint(h.Proposer), h.Parent, h.Root,
-		varint(q.View), varint(q.Height), q.Block, q.Bits, slices.Concat(q.Tags...),
-	}
+	parts := [][]byte{varint(h.View), varint(h.Height), varint(h.Proposer), h.Parent, h.Root}
+	return append(parts, partsOfRawQc(h.Qc)...)
 }
 
 // rawHead puts the parts of a header together, valid or not.

@@ -74,13 +74,6 @@ func TestWrongNumbersOfBlocks(t *testing.T) {
 	})
 }
 
-// replaced puts the parts of a block together with another one in a place.
-func replaced(x impl.Block, place int, part []byte) (whole []byte, end int) {
-	parts := partsOfRawBlock(x)
-	parts[place] = part
-	return slices.Concat(parts...), len(slices.Concat(parts[:place+1]...))
-}
-
 // Too large a number of transactions is found before any of them is read.
 func TestTooManyTxs(t *testing.T) {
 	for n := 1; n <= impl.MaxSigners; n++ {
@@ -88,7 +81,7 @@ func TestTooManyTxs(t *testing.T) {
 			most := l.Txs
 			for _, count := range []int{most + 1, most + 2, 9, 100, 127, 128, 255, 256, 1<<8 + most, 1<<32 + most, 1 << 56, impl.MaxNum - 1, impl.MaxNum} {
 				x := blockOver(headOfSet(1, n), slices.Repeat([][]byte{filled(l.Tx, 1)}, min(count, 9)))
-				b, end := replaced(x, countPart, varint(count))
+				b, end := withPart(partsOfRawBlock(x), countPart, varint(count))
 				blockCodec.checkCodeFrom(t, l, b, end, impl.ErLong)
 			}
 		}
@@ -104,7 +97,7 @@ func TestTooLongTxs(t *testing.T) {
 				for _, size := range []int{most + 1, most + 2, 41, 127, 128, 256, 1<<8 + most, 1<<32 + most, 1 << 56, impl.MaxNum} {
 					txs := slices.Repeat([][]byte{filled(most/2, 1)}, l.Txs)
 					txs[place] = filled(min(size, 129), 2)
-					b, end := replaced(blockOver(headOfSet(1, n), txs), countPart+1+2*place, varint(size))
+					b, end := withPart(partsOfRawBlock(blockOver(headOfSet(1, n), txs)), countPart+1+2*place, varint(size))
 					blockCodec.checkCodeFrom(t, l, b, end, impl.ErLong)
 				}
 			}
@@ -120,14 +113,14 @@ func TestTxsBehindTheEnd(t *testing.T) {
 			for left := range size {
 				txs := slices.Repeat([][]byte{{7}}, count)
 				txs[count-1] = filled(left, 2)
-				b, _ := replaced(blockWith(txs...), countPart+2*count-1, varint(size))
+				b, _ := withPart(partsOfRawBlock(blockWith(txs...)), countPart+2*count-1, varint(size))
 				blockCodec.checkNoneAt(t, l, b, 0, impl.ErShort)
 			}
 		}
 	}
 	for more := 1; more <= 4; more++ {
 		txs := slices.Repeat([][]byte{{7}}, 4-more)
-		b, _ := replaced(blockWith(txs...), countPart, varint(len(txs)+more))
+		b, _ := withPart(partsOfRawBlock(blockWith(txs...)), countPart, varint(len(txs)+more))
 		blockCodec.checkNoneAt(t, l, b, 0, impl.ErShort)
 	}
 }

@@ -16,7 +16,7 @@ import (
 
 // entryCodec has what lists of entries need; an entry has no encoding of its own.
 var entryCodec = codec[impl.Entry]{
-	name: "Entry", writtenSame: writtenEntrySame, clone: cloneEntry,
+	name: "Entry", writtenSame: writtenEntrySame, others: otherEntries, clone: cloneEntry,
 	hold: holdEntry, parts: partsOfEntry, ruin: overwriteEntry,
 }
 

@@ -82,14 +82,6 @@ func TestTooManyEntries(t *testing.T) {
 	}
 }
 
-// encodedTc is a certificate put together from its parts, of which the one at a
-// place is replaced, and the offset behind that part.
-func encodedTc(x impl.Tc, place, n int) (whole []byte, end int) {
-	parts := partsOfRawTc(x)
-	parts[place] = varint(n)
-	return slices.Concat(parts...), len(slices.Concat(parts[:place+1]...))
-}
-
 // whoPart is the place of Who of an entry among the parts of a certificate; High follows.
 func whoPart(entry int) int { return 2 + 3*entry }
 
@@ -99,7 +91,7 @@ func TestWrongSignersOfEntries(t *testing.T) {
 		for _, x := range []impl.Tc{tcOfSet(1<<n - 1), tcOfSet(1), tcOfSet(1 << (n - 1))} {
 			for at := range x.Entries {
 				for _, who := range []int{n, n + 1, 127, 128, 1<<32 + n - 1, impl.MaxNum} {
-					b, end := encodedTc(x, whoPart(at), who)
+					b, end := withPart(partsOfRawTc(x), whoPart(at), varint(who))
 					tcCodec.checkCodeFrom(t, limitsFor(n), b, end, impl.ErValue)
 				}
 			}
@@ -114,7 +106,7 @@ func TestEntriesOutOfOrder(t *testing.T) {
 			for at := 1; at < len(x.Entries); at++ {
 				before := x.Entries[at-1].Who
 				for who := 0; who <= before; who++ {
-					b, end := encodedTc(x, whoPart(at), who)
+					b, end := withPart(partsOfRawTc(x), whoPart(at), varint(who))
 					tcCodec.checkCodeFrom(t, limitsFor(n), b, end, impl.ErOrder)
 				}
 			}
@@ -132,7 +124,7 @@ func TestWrongHighsOfEntries(t *testing.T) {
 		}
 		for at := range x.Entries {
 			for _, high := range []int{view, min(view+1, impl.MaxNum), min(view+128, impl.MaxNum), impl.MaxNum} {
-				b, end := encodedTc(x, whoPart(at)+1, high)
+				b, end := withPart(partsOfRawTc(x), whoPart(at)+1, varint(high))
 				tcCodec.checkCodeFrom(t, limitsFor(10), b, end, impl.ErOrder)
 			}
 		}
@@ -142,7 +134,7 @@ func TestWrongHighsOfEntries(t *testing.T) {
 // No entry has a High before View 0.
 func TestEntriesOfViewZero(t *testing.T) {
 	for _, high := range []int{0, 1, 127, 128, impl.MaxNum} {
-		b, end := encodedTc(impl.Tc{Entries: tcBy(2, 3).Entries}, whoPart(0)+1, high)
+		b, end := withPart(partsOfRawTc(impl.Tc{Entries: tcBy(2, 3).Entries}), whoPart(0)+1, varint(high))
 		tcCodec.checkCodeFrom(t, limitsFor(4), b, end, impl.ErOrder)
 	}
 }

@@ -43,6 +43,11 @@ func cloneEntry(e impl.Entry) impl.Entry {
 	return e
 }
 
+// otherEntries are entries that differ from e in one field.
+func otherEntries(e impl.Entry) []impl.Entry {
+	return changedFields(e, cloneEntry, entryNumbers, entryTags)
+}
+
 func cloneTc(x impl.Tc) impl.Tc {
 	return impl.Tc{View: x.View, Entries: entryCodec.cloneAll(x.Entries)}
 }
@@ -164,31 +169,10 @@ func otherTcs(x impl.Tc) []impl.Tc {
 	for _, view := range changedNumbers(x.View) {
 		list = append(list, impl.Tc{View: view, Entries: entryCodec.cloneAll(x.Entries)})
 	}
-	for _, entries := range changedEntries(x.Entries) {
+	for _, entries := range entryCodec.changedAll(x.Entries, impl.Entry{Who: 1, Tag: goHash(1)}) {
 		list = append(list, impl.Tc{View: x.View, Entries: entries})
 	}
 	return list
-}
-
-func changedEntries(list []impl.Entry) [][]impl.Entry {
-	more := impl.Entry{Who: 1, Tag: goHash(1)}
-	lists := [][]impl.Entry{append(slices.Clone(list), more), append([]impl.Entry{more}, list...), append(slices.Clone(list), impl.Entry{})}
-	for i, e := range list {
-		lists = append(lists, slices.Delete(slices.Clone(list), i, i+1), slices.Insert(slices.Clone(list), i, e))
-		for _, other := range changedFields(e, cloneEntry, entryNumbers, entryTags) {
-			changed := slices.Clone(list)
-			changed[i] = other
-			lists = append(lists, changed)
-		}
-		for j := range i {
-			changed := slices.Clone(list)
-			changed[i], changed[j] = list[j], e
-			if !writtenEntrySame(e, list[j]) {
-				lists = append(lists, changed)
-			}
-		}
-	}
-	return lists
 }
 
 var tcCodec = codec[impl.Tc]{
